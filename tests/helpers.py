@@ -1,0 +1,180 @@
+"""What the tests share: any objects, strict comparison, and checks of wrong arguments."""
+
+import copy
+import inspect
+import itertools
+import re
+
+from runturns import errors
+from runturns.shelves import Shelf
+
+ABC, DCBA = ["a", "b", "c"], ["d", "c", "b", "a"]
+# A catalogue that is not in the order of letters.
+MIXED = ["pear", "fig", "zz", "apple", "mango"]
+TWELVE = list("kbhdalcgifje")
+
+
+def nested(wrap, depth):
+    value = "a"
+    for _ in range(depth):
+        value = wrap(value)
+    return value
+
+
+def any_objects():
+    """New objects of all kinds that [2] names, many of them nearly what some function wants."""
+    shelf = Shelf(["a", "b", "c"], ["c", "a", "b"])
+    plain = [None, True, False, 0, 1, 2, 3, 4, 5, 6, 24, -1, -2, 10 ** 29]
+    texts = ["", "a", "b", "z", "A", "aB", "a1", "a b", " a", "a\n", "\t", "~", "abcdefgh", "abcdefghi", "put", "a,b"]
+    lists = [[], [None], ["a"], ["b"], ["a", "b"], ["b", "a"], ["a", "a"], ["a", "c"], ["a", "b", "c"], ["c", "b", "a"],
+             ["a", "b", "x"], ["a", "b", "c", "d"], ["a", "b", "b"], ["a", "b", "C"], ["a", "b", ""], ["a", "b", None],
+             ["a", ["b"]], [("a",)], [["a", "b"]], [True, False], [0, 1, 2], [1], [shelf], [shelf, "a"],
+             [("a", "b")], [("out", "a")], [("out", "a"), None], [["out", "a"]], [{}], [[]]]
+    tuples = [(), (None,), ("a",), ("a", "b"), ("b", "a"), ("a", "c"), ("b", "c"), ("a", "b", "c"), ("c", "b", "a"),
+              ("a", "b", "x"), ("a", "b", "c", "d"), ("a", "a"), ("a", "b", "a"), ("a", True), ("a", ["b"]),
+              ("a", shelf), (("a", "b"),), (0, 1), (True, False), (["a", "b"],)]
+    changes = [("put",), ("out",), ("put", "a"), ("out", "a"), ("out", "x"), ("out", "a", 0), ("put", "x", 0, 0),
+               ("put", "x", 3, 3), ("put", "x", 4, 0), ("put", "x", 0, 4), ("put", "x", 0), ("put", "x", 0, 0, 0),
+               ("put", "x", True, 0), ("put", "x", 0, False), ("put", "x", -1, 0), ("put", "x", 0, -1),
+               ("put", "x", "0", 0), ("put", "x", 0, None), ("put", "X", 0, 0), ("put", "a", 0, 0), ("put", 1, 0, 0),
+               ("move", "a", 0), ("move", "a", 1), ("move", "a", 2), ("move", "a", 3), ("move", "x", 0), ("move", "a"),
+               ("move", "a", True), ("move", "a", False), ("move", "a", -1), ("move", "a", [0]), ("move", "a", 0, 0),
+               ("list", "a", 0), ("list", "a", 1), ("list", "a", 3), ("list", "x", 0), ("list", "a", True),
+               ("list", "a"), ("list", ["a"], 1), ("swap", "a", 1), ("Out", "a"), (None, "a"), (["out"], "a"),
+               (shelf, "a"), ["out", "a"], ["put", "x", 0, 0], ["move", "a", 0]]
+    dicts = [{}, {"a": "b"}, {"a": "b", "b": "a"}, {"a": "b", "b": "a", "c": "z"}, {"a": "b", "b": "b", "c": "z"},
+             {"a": "b", "b": "a", "c": "Z"}, {"a": "b", "b": "a", "c": None}, {"a": "b", "b": "a", "c": ["z"]},
+             {"a": "b", "b": "a", "x": "z"}, {"a": "b", "b": "a", "c": "z", "d": "y"}, {"a": "b", "b": "a", 0: "z"},
+             {"a": shelf, "b": "a", "c": "z"}, {"a": 1, "b": 2, "c": 3}, {("a", "b"): 1}, {None: [1, (2, {})]},
+             {True: "a", 2: "b"}, {0: "a", 1: "b", 2: "c"}, {(): {}}]
+    own = [shelf, Shelf(["a"], ["a"]), errors.InvalidBook(), errors.InvalidShelf(shelf), errors.ShelfError(),
+           errors.NothingToUndo(), [errors.InvalidRow(["a"])], (errors.Unlike("a"),)]
+    deep = [nested(lambda value: [value], 38), nested(lambda value: (value,), 38), nested(lambda value: {1: value}, 38)]
+    return plain + texts + lists + tuples + changes + dicts + own + deep
+
+
+def same(one, other):
+    """Whether two values are equal, and of like kinds down to the last item."""
+    if type(one) is not type(other):
+        return False
+    if isinstance(one, (list, tuple)):
+        return len(one) == len(other) and all(same(x, y) for x, y in zip(one, other))
+    if isinstance(one, dict):
+        return same([pair for pair in one.items()], [pair for pair in other.items()])
+    if isinstance(one, Shelf):
+        return same([one.catalogue(), one.row()], [other.catalogue(), other.row()])
+    if isinstance(one, errors.ShelfError):
+        return same(vars(one), vars(other))
+    return one == other
+
+
+def book_is_right(value):
+    return type(value) is str and re.fullmatch("[a-z]{1,8}", value) is not None
+
+
+def catalogue_is_right(value):
+    if type(value) is not list or len(value) == 0 or not all(book_is_right(book) for book in value):
+        return False
+    return sorted(value) == sorted(set(value))
+
+
+def books_are_right(books, least):
+    def judge(value):
+        if type(value) is not list or not all(type(book) is str and book in books for book in value):
+            return False
+        return len(value) >= least and sorted(value) == sorted(set(value))
+    return judge
+
+
+def count_is_right(low, beyond):
+    return lambda value: type(value) is int and low <= value < beyond
+
+
+def runs_by_entries(shelf):
+    """The runs found the other way about: neighbours of the catalogue that stand side by side on the row."""
+    catalogue, row = shelf.catalogue(), shelf.row()
+    found = []
+    for first, last in itertools.combinations(range(len(catalogue)), 2):
+        books = catalogue[first:last + 1]
+        start = min(row.index(book) for book in books)
+        if set(row[start:start + len(books)]) == set(books):
+            found.append(tuple(books))
+    return sorted(found)
+
+
+def shelves_of(catalogue):
+    return [Shelf(catalogue, list(row)) for row in itertools.permutations(catalogue)]
+
+
+def some_shelves():
+    """All shelves of up to five books, of catalogues in many orders, and some of twelve."""
+    small = [["q"], ["b", "a"], ABC, DCBA, MIXED]
+    twelve = [TWELVE, TWELVE[::-1], TWELVE[6:] + TWELVE[:6], TWELVE[1::2] + TWELVE[::2], TWELVE[3::-1] + TWELVE[4:]]
+    return [shelf for books in small for shelf in shelves_of(books)] + [Shelf(TWELVE, row) for row in twelve]
+
+
+def names_of_parameters(function):
+    return list(inspect.signature(function).parameters)
+
+
+class Arguments:
+    """The arguments of a function: right ones, and for each the error of a wrong one and what is right.
+
+    What is right is told by a judge, or is None for arguments for which no error is specified.
+    """
+
+    def __init__(self, function, *rows):
+        self.function = function
+        self.names = names_of_parameters(function)
+        self.right = [row[0] for row in rows]
+        self.errors = [row[1] for row in rows]
+        self.judges = [row[2] for row in rows]
+
+    def wrong_ones(self, at):
+        return [value for value in any_objects() if not self.judges[at](value)]
+
+    def with_wrong(self, wrong):
+        """The right arguments, some of them exchanged by a dictionary from positions to wrong ones."""
+        return [wrong.get(at, value) for at, value in enumerate(self.right)]
+
+
+def raised(function, args, more):
+    """The error of the package that a call raises, None if none."""
+    try:
+        function(*args, **more)
+    except errors.ShelfError as error:
+        return error
+    return None
+
+
+def check_error(case, function, arguments, error, value):
+    """Call by position and by name; each time just this error has to come, with the very object."""
+    before = copy.deepcopy(arguments)
+    named = dict(zip(names_of_parameters(function), arguments))
+    for told in (raised(function, arguments, {}), raised(function, [], named)):
+        shown = f"{function.__name__}{tuple(arguments)!r}: {told!r}"
+        case.assertIs(type(told), error, shown)
+        case.assertIs(told.value, value, shown)
+    case.assertTrue(same(before, arguments), function.__name__)
+
+
+def check_wrong_alone(case, told):
+    for at, error in enumerate(told.errors):
+        if error is not None:
+            wrong = told.wrong_ones(at)
+            case.assertGreater(len(wrong), 100, told.function.__name__)
+            for value in wrong:
+                check_error(case, told.function, told.with_wrong({at: value}), error, value)
+
+
+def check_wrong_together(case, told):
+    """A wrong argument comes ahead of all wrong ones behind it."""
+    many = len(told.errors)
+    for at in range(many - 1):
+        behind = [later for later in range(at + 1, many) if told.errors[later] is not None]
+        for turn, value in enumerate(told.wrong_ones(at)):
+            for some in range(1, 2 ** len(behind)):
+                chosen = [later for bit, later in enumerate(behind) if some >> bit & 1]
+                wrong = {later: told.wrong_ones(later)[turn * 7 % 90] for later in chosen}
+                wrong[at] = value
+                check_error(case, told.function, told.with_wrong(wrong), told.errors[at], value)
