@@ -86,6 +86,10 @@ def books_are_right(books, least):
     return judge
 
 
+def is_shelf(value):
+    return type(value) is Shelf
+
+
 def count_is_right(low, beyond):
     return lambda value: type(value) is int and low <= value < beyond
 
@@ -178,3 +182,19 @@ def check_wrong_together(case, told):
                 wrong = {later: told.wrong_ones(later)[turn * 7 % 90] for later in chosen}
                 wrong[at] = value
                 check_error(case, told.function, told.with_wrong(wrong), told.errors[at], value)
+
+
+class WrongArguments:
+    """Two tests for a case whose field `told` lists the Arguments of its functions."""
+
+    told = []
+
+    def test_each_argument_alone(self):
+        for told in self.told:
+            with self.subTest(told.function.__name__):
+                check_wrong_alone(self, told)
+
+    def test_wrong_ones_together(self):
+        for told in self.told:
+            with self.subTest(told.function.__name__):
+                check_wrong_together(self, told)

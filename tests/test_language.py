@@ -61,8 +61,9 @@ class Language(unittest.TestCase):
 
     def test_builtins(self):
         for name, tree in trees():
-            used = {node.id for node in ast.walk(tree) if isinstance(node, ast.Name)}
+            words = [node for node in ast.walk(tree) if isinstance(node, ast.Name)]
+            used = {node.id for node in words}
             self.assertEqual(sorted(word for word in used & set(dir(builtins)) if word not in BUILTINS), [], name)
             given = {node.arg for node in ast.walk(tree) if isinstance(node, ast.arg)}
-            given |= {node.id for node in ast.walk(tree) if isinstance(node, ast.Name) and isinstance(node.ctx, ast.Store)}
+            given |= {node.id for node in words if isinstance(node.ctx, ast.Store)}
             self.assertEqual(sorted(given & set(dir(builtins))), [], name)

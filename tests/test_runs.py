@@ -7,9 +7,9 @@ from runturns import errors, runs
 from runturns.runs import all_runs, is_run, least_run, meet_of, overlap, overlapping, rests_of, run_at, run_entry
 from runturns.runs import run_place, run_turned, union_of
 from runturns.shelves import Shelf, exchanged, flipped, mirrored
-from tests.helpers import ABC, DCBA, MIXED, TWELVE, Arguments, any_objects, books_are_right, check_error
-from tests.helpers import check_wrong_alone, check_wrong_together, count_is_right, names_of_parameters
-from tests.helpers import runs_by_entries, same, shelves_of, some_shelves
+from tests.helpers import ABC, DCBA, MIXED, TWELVE, Arguments, WrongArguments, any_objects, books_are_right
+from tests.helpers import check_error, count_is_right, is_shelf, names_of_parameters, runs_by_entries, same
+from tests.helpers import shelves_of, some_shelves
 
 # Its runs are ("a", "b") and ("a", "b", "c").
 CAB = Shelf(ABC, ["c", "a", "b"])
@@ -21,10 +21,6 @@ INTERFACE = {
     "run_at": ["shelf", "place", "size"], "run_turned": ["shelf", "run"], "overlap": ["shelf", "one", "other"],
     "overlapping": ["shelf", "run"], "meet_of": ["shelf", "one", "other"], "union_of": ["shelf", "one", "other"],
     "rests_of": ["shelf", "one", "other"], "least_run": ["shelf", "books"]}
-
-
-def is_shelf(value):
-    return type(value) is Shelf
 
 
 def is_run_of(shelf):
@@ -57,16 +53,8 @@ ARGUMENTS = [
 ]
 
 
-class WrongInputs(unittest.TestCase):
-    def test_each_argument_alone(self):
-        for told in ARGUMENTS:
-            with self.subTest(told.function.__name__):
-                check_wrong_alone(self, told)
-
-    def test_wrong_ones_together(self):
-        for told in ARGUMENTS:
-            with self.subTest(told.function.__name__):
-                check_wrong_together(self, told)
+class WrongInputs(WrongArguments, unittest.TestCase):
+    told = ARGUMENTS
 
     def test_each_function_is_there(self):
         self.assertEqual([told.function.__name__ for told in ARGUMENTS], list(INTERFACE))

@@ -6,8 +6,8 @@ import unittest
 from runturns import errors, shelves
 from runturns.shelves import Shelf, changed, changed_by, cut_to, entry_of, exchanged, flipped, is_book, is_catalogue
 from runturns.shelves import mirrored, place_of, ranks, renamed, shelf_at, shelf_number, sorted_shelf
-from tests.helpers import ABC, DCBA, MIXED, TWELVE, Arguments, any_objects, book_is_right, books_are_right
-from tests.helpers import catalogue_is_right, check_error, check_wrong_alone, check_wrong_together, count_is_right
+from tests.helpers import ABC, DCBA, MIXED, TWELVE, Arguments, WrongArguments, any_objects, book_is_right
+from tests.helpers import books_are_right, catalogue_is_right, check_error, count_is_right, is_shelf
 from tests.helpers import names_of_parameters, same, shelves_of, some_shelves
 
 CAB = Shelf(ABC, ["c", "a", "b"])
@@ -18,10 +18,6 @@ INTERFACE = {
     "changed": ["shelf", "change"], "changed_by": ["shelf", "changes"], "mirrored": ["shelf"], "flipped": ["shelf"],
     "exchanged": ["shelf"], "renamed": ["shelf", "names"], "cut_to": ["shelf", "books"],
     "shelf_at": ["catalogue", "number"], "shelf_number": ["shelf"]}
-
-
-def is_shelf(value):
-    return type(value) is Shelf
 
 
 def is_row_of_abc(value):
@@ -79,16 +75,8 @@ ARGUMENTS = [
 ]
 
 
-class WrongInputs(unittest.TestCase):
-    def test_each_argument_alone(self):
-        for told in ARGUMENTS:
-            with self.subTest(told.function.__name__):
-                check_wrong_alone(self, told)
-
-    def test_wrong_ones_together(self):
-        for told in ARGUMENTS:
-            with self.subTest(told.function.__name__):
-                check_wrong_together(self, told)
+class WrongInputs(WrongArguments, unittest.TestCase):
+    told = ARGUMENTS
 
     def test_each_function_with_an_error_is_there(self):
         self.assertEqual(len(ARGUMENTS) + 2, len(INTERFACE))
@@ -135,7 +123,8 @@ class Books(unittest.TestCase):
 
     def test_is_catalogue_at_the_edges(self):
         right = [["a"], ["b", "a"], MIXED, TWELVE]
-        wrong = [[], ("a", "b"), ["a", "b", "a"], ["a", "A"], ["a", ""], ["a", "abcdefghi"], ["a", None], "ab", {"a": 1}]
+        wrong = [[], ("a", "b"), ["a", "b", "a"], ["a", "A"], ["a", ""], ["a", "abcdefghi"], ["a", None], "ab",
+                 {"a": 1}]
         self.assertEqual([is_catalogue(value) for value in right], [True] * len(right))
         self.assertEqual([is_catalogue(value) for value in wrong], [False] * len(wrong))
 
