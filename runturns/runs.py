@@ -1,16 +1,27 @@
 """Runs of a shelf: stretches of the row whose books are neighbours in the catalogue, too."""
 
 from runturns.counts import is_count, is_count_below
-from runturns.errors import InvalidBooks, InvalidCount, InvalidRun
+from runturns.errors import InvalidBooks, InvalidCount, InvalidRun, InvalidTurns
 from runturns.shelves import Shelf, are_unlike_of, check_shelf, ranks
+
+
+def are_gapless(entries):
+    """Whether some unlike whole numbers are neighbours, none missing between, in whatever order."""
+    return max(entries) - min(entries) == len(entries) - 1
 
 
 def _run_of_entries(catalogue, entries):
     """The run whose books have some entries, those of a stretch; None if one is missing between."""
-    first = min(entries)
-    if max(entries) - first != len(entries) - 1:
+    if not are_gapless(entries):
         return None
+    first = min(entries)
     return tuple(catalogue[first:first + len(entries)])
+
+
+def neighbours_of(catalogue):
+    """The ascending list of the tuples of two or more neighbours: the runs that some shelf has."""
+    many = len(catalogue)
+    return sorted([tuple(catalogue[start:end]) for start in range(many) for end in range(start + 2, many + 1)])
 
 
 def all_runs(shelf):
@@ -56,11 +67,37 @@ def run_at(shelf, place, size):
     return _run_of_entries(shelf.catalogue(), entries[place:place + size])
 
 
+def turned_about(shelf, run):
+    """The shelf with a run turned that surely is one."""
+    row = shelf.row()
+    start = min([row.index(book) for book in run])
+    end = start + len(run)
+    return Shelf(shelf.catalogue(), row[:start] + row[start:end][::-1] + row[end:])
+
+
 def run_turned(shelf, run):
     """The shelf with the books of a run in the contrary order where they stand."""
-    start, many = run_place(shelf, run)
-    row, end = shelf.row(), start + many
-    return Shelf(shelf.catalogue(), row[:start] + row[start:end][::-1] + row[end:])
+    check_run(shelf, run)
+    return turned_about(shelf, run)
+
+
+def shelf_behind(shelf, value):
+    """The shelf to which any object leads, if it is turns of a shelf, None if it is not."""
+    if not isinstance(value, list):
+        return None
+    reached = shelf
+    for run in value:
+        if not is_run(reached, run):
+            return None
+        reached = turned_about(reached, run)
+    return reached
+
+
+def check_turns(shelf, turns):
+    """Raise InvalidShelf, InvalidTurns unless turns of a shelf are handed."""
+    check_shelf(shelf)
+    if shelf_behind(shelf, turns) is None:
+        raise InvalidTurns(turns)
 
 
 def _shared(one, other):

@@ -4,7 +4,7 @@ from math import factorial
 
 from runturns.counts import is_count, is_count_below
 from runturns.errors import InvalidBook, InvalidBooks, InvalidCatalogue, InvalidChange, InvalidChanges
-from runturns.errors import InvalidCount, InvalidNames, InvalidRow, InvalidShelf
+from runturns.errors import InvalidCount, InvalidNames, InvalidRow, InvalidShelf, Unlike
 
 LETTERS = "abcdefghijklmnopqrstuvwxyz"
 MOST_LETTERS = 8
@@ -27,11 +27,21 @@ def is_catalogue(value):
     return all([is_book(book) for book in value]) and len(set(value)) == len(value)
 
 
+def are_ascending(value):
+    """Whether a list of books, or one of tuples of books, ascends without doubles."""
+    return all([one < other for one, other in zip(value, value[1:])])
+
+
 def are_unlike_of(books, value):
     """Whether any object is a list of unlike ones of some books, in any order, perhaps empty."""
     if not isinstance(value, list):
         return False
     return all([book in books for book in value]) and len(set(value)) == len(value)
+
+
+def are_ascending_of(books, value):
+    """Whether any object is an ascending list of ones of some books, perhaps empty."""
+    return are_unlike_of(books, value) and are_ascending(value)
 
 
 class Shelf:
@@ -61,6 +71,14 @@ def check_shelf(shelf):
     """Raise InvalidShelf unless an object is a shelf."""
     if not isinstance(shelf, Shelf):
         raise InvalidShelf(shelf)
+
+
+def check_alike(one, other):
+    """Raise InvalidShelf, Unlike unless two shelves of one catalogue are handed."""
+    check_shelf(one)
+    check_shelf(other)
+    if one.catalogue() != other.catalogue():
+        raise Unlike(other)
 
 
 def check_book_of(shelf, book):

@@ -47,10 +47,38 @@ def any_objects():
              {"a": "b", "b": "a", "x": "z"}, {"a": "b", "b": "a", "c": "z", "d": "y"}, {"a": "b", "b": "a", 0: "z"},
              {"a": shelf, "b": "a", "c": "z"}, {"a": 1, "b": 2, "c": 3}, {("a", "b"): 1}, {None: [1, (2, {})]},
              {True: "a", 2: "b"}, {0: "a", 1: "b", 2: "c"}, {(): {}}]
+    runs = [[("a", "b"), ("a", "b", "c")], [("a", "b", "c"), ("a", "b")], [("a", "b"), ("a", "b")], [("a", "b", "c")],
+            [("b", "c")], [("a", "b"), ("b", "c")], [("b", "a")], [("a", "c")], [["a", "b"], ["a", "b", "c"]],
+            (("a", "b"), ("a", "b", "c")), {("a", "b"): 1, ("a", "b", "c"): 1}, [("a", "b"), None], [("a", "b"), True],
+            [("a", "b"), ("a", "b", "c"), ("b", "c")], [("a",)], [("a", "b"), shelf], [()], [[("a", "b")]],
+            (("a", "b"), ("b", "c")), (("b", "c"), ("a", "b")), [("a", "b", "c", "d")], [("a", "b"), ("c",)]]
+    trees = ["rising", "falling", "crossed", "book", "Rising", "+", "-", ("rising",), ["book"],
+             ("falling", ["c", ("rising", ["a", "b"])]), ("falling", ("c", ("rising", ["a", "b"]))),
+             ["falling", ["c", ("rising", ["a", "b"])]], ("falling", ["c", ("rising", ("a", "b"))]),
+             ("rising", ["c", ("rising", ["a", "b"])]), ("falling", ["c", "a", "b"]), ("falling", []),
+             ("heap", ["a", "b", "c"]), ("heap", ("a", "b", "c")), ["heap", ["a", "b", "c"]], ("heap", ["b", "a", "c"]),
+             ("heap", ["a", ("heap", ["b", "c"])]), ("heap", ["a"]), ("heap", "abc"), ("heap", ["a", "b", "c", "d"]),
+             ("crossed", [1, 3, 0, 2], ["a", "b", "c", "d"]), ("crossed", [True, 3, False, 2], ["a", "b", "c", "d"]),
+             ("crossed", (1, 3, 0, 2), ["a", "b", "c", "d"]), ("crossed", [1, 0, 2], ["a", "b", "c"]),
+             ("crossed", ["a", "b", "c"]), ("heap", [0, 1, 2], ["a", "b", "c"]),
+             ("+", "a", "b", "c"), ("-", "c", ("+", "a", "b")), ["-", "c", ("+", "a", "b")], ("-", "c", ["+", "a", "b"]),
+             ("-", ("+", "a", "b"), "c"), ("-", "c", "a", "b"), ("+", ("a", "b")), ("+", "a"), ("+",), ("", "a", "b"),
+             ("-", ("c",), ("+", "a", "b")), (None, "c", ("+", "a", "b")), ("-", "c", ("+", "a", "b", "b"))]
+    signs = [{"a": "+", "b": "+", "c": "-"}, {"a": "+", "b": "+", "c": "+"}, {"c": "-", "b": "-", "a": "-"},
+             {"a": "+", "b": "+"}, {"a": "+", "b": "+", "c": None}, {"a": "+", "b": "+", "c": ["-"]},
+             {"a": "+", "b": "+", "c": True}, {"a": "+", "b": "+", "d": "-"}, {"a": "+", "b": "+", "c": ""},
+             {"a": "+", "b": "+", "c": "-", "d": "-"}, {"a": "+", "b": "+", ("c",): "-"}, ["+", "+", "-"]]
+    prices = [{("a", "b"): 0}, {("a", "b"): 2, ("a", "b", "c"): 60, ("b", "c"): 0}, {("a", "b"): True},
+              {("a", "b"): False}, {("a", "b"): -1}, {("a", "b"): "1"}, {("a", "b"): None}, {("a", "b"): [1]},
+              {("b", "a"): 1}, {("a", "c"): 1}, {("a",): 1}, {"ab": 1}, {("a", "b", "c", "d"): 1}, {(): 1},
+              {("a", "b"): 1, "a": 1}, {("a", "b"): 1, (("a", "b"),): 1}, {None: 1}, [(("a", "b"), 1)], {("a", 1): 1}]
+    shelves = [[shelf, shelf], (shelf, shelf), [shelf, None], [shelf, [shelf]], {0: shelf}, [shelf, ["c", "a", "b"]],
+               [[0], [1]], [0, True], [2, 3], [0, -1], (2, 3), [60, 0], ["1"], [1, None]]
+    more = runs + trees + signs + prices + shelves
     own = [shelf, Shelf(["a"], ["a"]), errors.InvalidBook(), errors.InvalidShelf(shelf), errors.ShelfError(),
            errors.NothingToUndo(), [errors.InvalidRow(["a"])], (errors.Unlike("a"),)]
     deep = [nested(lambda value: [value], 38), nested(lambda value: (value,), 38), nested(lambda value: {1: value}, 38)]
-    return plain + texts + lists + tuples + changes + dicts + own + deep
+    return plain + texts + lists + tuples + changes + dicts + more + own + deep
 
 
 def same(one, other):
@@ -84,6 +112,10 @@ def books_are_right(books, least):
             return False
         return len(value) >= least and sorted(value) == sorted(set(value))
     return judge
+
+
+def is_one_of(things):
+    return lambda value: any(same(value, thing) for thing in things)
 
 
 def is_shelf(value):
@@ -124,11 +156,13 @@ def names_of_parameters(function):
 class Arguments:
     """The arguments of a function: right ones, and for each the error of a wrong one and what is right.
 
-    What is right is told by a judge, or is None for arguments for which no error is specified.
+    What is right is told by a judge, or is None for arguments for which no error is specified. The order is that
+    in which the arguments are judged, as positions, if it is not that of the parameters.
     """
 
-    def __init__(self, function, *rows):
+    def __init__(self, function, *rows, order=None):
         self.function = function
+        self.order = list(range(len(rows))) if order is None else order
         self.names = names_of_parameters(function)
         self.right = [row[0] for row in rows]
         self.errors = [row[1] for row in rows]
@@ -173,13 +207,15 @@ def check_wrong_alone(case, told):
 
 def check_wrong_together(case, told):
     """A wrong argument comes ahead of all wrong ones behind it."""
-    many = len(told.errors)
-    for at in range(many - 1):
-        behind = [later for later in range(at + 1, many) if told.errors[later] is not None]
+    for step, at in enumerate(told.order[:-1]):
+        if told.errors[at] is None:
+            continue
+        behind = [later for later in told.order[step + 1:] if told.errors[later] is not None]
+        others = {later: told.wrong_ones(later) for later in behind}
         for turn, value in enumerate(told.wrong_ones(at)):
             for some in range(1, 2 ** len(behind)):
                 chosen = [later for bit, later in enumerate(behind) if some >> bit & 1]
-                wrong = {later: told.wrong_ones(later)[turn * 7 % 90] for later in chosen}
+                wrong = {later: others[later][turn * 7 % len(others[later])] for later in chosen}
                 wrong[at] = value
                 check_error(case, told.function, told.with_wrong(wrong), told.errors[at], value)
 

@@ -33,6 +33,65 @@ cab, bacd, crossed = Shelf(abc, ["c", "a", "b"]), Shelf(abcd, ["b", "a", "c", "d
 # [('a', 'b', 'c', 'd'), ('a', 'b', 'c'), [('a', 'b'), ('a', 'b', 'c'), ('a', 'b', 'c', 'd'), ('b', 'c'), ('b', 'c', 'd'), ('c', 'd')]]
 """
 
+KNOTS = """
+from runturns.knots import depth, is_tree, kind_of, knot_around, knots, knots_gained, knots_lost, knots_of_kind, least_knot, part_numbers, parts_of, runs_of_knot, same_knots, sign_of, tree_of
+from runturns.shelves import Shelf
+four = ["a", "b", "c", "d"]
+mixed, wild, sorted_one = Shelf(four, ["c", "a", "b", "d"]), Shelf(four, ["b", "d", "a", "c"]), Shelf(four, ["a", "b", "c", "d"])
+knots(mixed)
+# [('a',), ('a', 'b'), ('a', 'b', 'c'), ('a', 'b', 'c', 'd'), ('b',), ('c',), ('d',)]
+[tree_of(mixed), tree_of(wild), depth(mixed), depth(wild)]
+# [('rising', [('falling', ['c', ('rising', ['a', 'b'])]), 'd']), ('crossed', ['b', 'd', 'a', 'c']), 3, 1]
+[parts_of(mixed, ("a", "b", "c")), knot_around(mixed, ("a", "b")), part_numbers(wild, ("a", "b", "c", "d")), sign_of(wild, ("a", "b", "c", "d")), kind_of(mixed, ("d",)), sign_of(mixed, ("d",))]
+# [[('c',), ('a', 'b')], ('a', 'b', 'c'), [1, 3, 0, 2], '+', 'book', None]
+[runs_of_knot(sorted_one, ("a", "b", "c", "d")), runs_of_knot(mixed, ("a", "b", "c", "d")), runs_of_knot(mixed, ("c",))]
+# [[('a', 'b'), ('a', 'b', 'c'), ('a', 'b', 'c', 'd'), ('b', 'c'), ('b', 'c', 'd'), ('c', 'd')], [('a', 'b', 'c', 'd')], []]
+[least_knot(sorted_one, ["a", "b"]), least_knot(mixed, ["a", "b"]), knots_lost(mixed, ("a", "b")), knots_gained(mixed, ("a", "b")), knots_gained(sorted_one, ("b", "c"))]
+# [('a', 'b', 'c', 'd'), ('a', 'b'), [('a', 'b')], [], [('b', 'c')]]
+[same_knots(mixed, wild), knots_of_kind(mixed, "falling"), knots_of_kind(wild, "crossed")]
+# [False, [('a', 'b', 'c')], [('a', 'b', 'c', 'd')]]
+"""
+
+HOMES = """
+from runturns.homes import are_joined, core_numbers, core_of, core_parts, heaps_of, home_of, is_core, is_parting, parting, shelf_with, awry_runs
+from runturns.shelves import Shelf
+abc, abcd = ["a", "b", "c"], ["a", "b", "c", "d"]
+[awry_runs(Shelf(abc, row)) for row in (["b", "a", "c"], ["c", "a", "b"], ["c", "b", "a"], abc)]
+# [[('a', 'b')], [('a', 'b'), ('a', 'b', 'c')], [('a', 'b', 'c')], []]
+[home_of(Shelf(abc, ["c", "a", "b"])) == Shelf(abc, abc), core_of(Shelf(abc, ["b", "c", "a"])), heaps_of(Shelf(abc, abc))]
+# [True, ('heap', ['a', 'b', 'c']), [[('a',), ('b',), ('c',)]]]
+one, other = Shelf(abcd, ["b", "d", "a", "c"]), Shelf(abcd, ["c", "a", "d", "b"])
+[awry_runs(one), awry_runs(other), home_of(other) == one, core_numbers(other, ("a", "b", "c", "d")), core_of(other)]
+# [[], [('a', 'b', 'c', 'd')], True, [1, 3, 0, 2], ('crossed', [1, 3, 0, 2], ['a', 'b', 'c', 'd'])]
+[are_joined(one, Shelf(abcd, abcd)), parting(one, Shelf(abcd, abcd)), is_parting(one, other, ("a", "b", "c", "d")), are_joined(one, other)]
+# [False, ('a', 'b', 'c', 'd'), False, True]
+five = Shelf(["a", "b", "c", "d", "e"], ["c", "b", "e", "a", "d"])
+[core_parts(five, ("a", "b", "c", "d", "e")), heaps_of(five), awry_runs(five)]
+# [[('a',), ('b', 'c'), ('d',), ('e',)], [[('b',), ('c',)]], [('b', 'c')]]
+[is_core(abc, ("heap", ["a", ("heap", ["b", "c"])])), is_core(abc, ("heap", ["a", "b", "c"])), is_core(["a", "b"], ("crossed", [0, 1], ["a", "b"])), shelf_with(abcd, ("crossed", [1, 3, 0, 2], ["a", "b", "c", "d"])) == one]
+# [False, True, False, True]
+"""
+
+LOTS = """
+from runturns.lots import barred_by, clash, coming_runs, either, faces, filled, is_clash, is_filled, is_full, is_lot, joined_with_faces, met, shelf_of, turnable_runs, turned_over
+from runturns.shelves import Shelf
+abc = ["a", "b", "c"]
+home, left, right, last = Shelf(abc, abc), Shelf(abc, ["b", "a", "c"]), Shelf(abc, ["a", "c", "b"]), Shelf(abc, ["c", "a", "b"])
+[turnable_runs(left), is_lot(home, [("a", "b"), ("a", "b", "c")]), is_lot(home, [("a", "b"), ("b", "c")]), is_lot(home, [])]
+# [[('a', 'b'), ('a', 'b', 'c'), ('b', 'c')], True, False, True]
+[shelf_of(left, [("a", "b"), ("a", "b", "c")]) == last, shelf_of(last, [("b", "c")]) == right, shelf_of(right, []) == home]
+# [True, True, True]
+[clash(home, [("a", "b"), ("a", "b", "c"), ("b", "c")]), clash(home, [("a", "b")]), coming_runs(left), coming_runs(last), is_full(last), is_full(left)]
+# [(('a', 'b'), ('b', 'c')), None, [('a', 'b', 'c')], [], True, False]
+[met(left, last) == left, either(left, right), either(left, home) == left, faces(last), faces(left)]
+# [True, None, True, {'a': '+', 'b': '+', 'c': '-'}, {'a': '-', 'b': '-', 'c': '+'}]
+[barred_by(left, ("b", "c")), barred_by(left, ("a", "b")), is_filled(home, last), is_filled(right, last), turned_over(last, [("a", "b"), ("a", "b", "c")])]
+# [[('a', 'b')], [], True, False, ['c']]
+ups, downs = {"a": "+", "b": "+", "c": "+"}, {"a": "+", "b": "+", "c": "-"}
+[joined_with_faces(last, downs, home, ups), joined_with_faces(last, ups, home, ups), joined_with_faces(last, ups, last, ups)]
+# [True, False, True]
+"""
+
 
 def told_by(block):
     """Tuples of a line, the representation of what it gives, and the one that stands below it."""
@@ -57,3 +116,12 @@ class Examples(unittest.TestCase):
 
     def test_runs(self):
         self.check(RUNS, 5)
+
+    def test_knots(self):
+        self.check(KNOTS, 6)
+
+    def test_homes(self):
+        self.check(HOMES, 6)
+
+    def test_lots(self):
+        self.check(LOTS, 6)

@@ -16,6 +16,14 @@ BUILTINS = set("""len range enumerate zip min max sum abs sorted reversed int st
     Exception ValueError TypeError KeyError IndexError LookupError ZeroDivisionError ArithmeticError OverflowError
     RuntimeError NotImplementedError AttributeError StopIteration NotImplemented""".split())
 BARRED = (ast.Global, ast.AsyncFunctionDef, ast.AsyncFor, ast.AsyncWith, ast.Await, ast.Import, ast.Div)
+# A class of the package has an __eq__, so any, all, min, max, sum and sorted take lists (L7).
+NOT_USED = (ast.GeneratorExp, ast.Yield, ast.YieldFrom, ast.Pow, ast.Starred, ast.Nonlocal, ast.Set, ast.SetComp, ast.Try)
+METHODS = set("""append clear copy count endswith extend find get index insert isalnum isalpha isdigit islower isspace
+    isupper items join keys ljust lower lstrip partition pop remove replace reverse rfind rjust rpartition rsplit rstrip
+    setdefault split splitlines startswith strip update upper values zfill bit_length""".split())
+WORDS_NOT_USED = set("""register mro elements open input law version_info with_traceback add_note attrgetter breakpoint
+    builtins compile copyright credits delattr dir eval exec exit gc globals help id importlib license locals
+    methodcaller os quit type vars sys typing enum dataclass""".split())
 
 
 def files():
@@ -54,7 +62,7 @@ class Language(unittest.TestCase):
     def test_statements_and_literals(self):
         for name, tree in trees():
             for node in ast.walk(tree):
-                self.assertNotIsInstance(node, BARRED, name)
+                self.assertNotIsInstance(node, BARRED + NOT_USED, name)
                 if isinstance(node, ast.Constant):
                     self.assertNotIsInstance(node.value, (float, complex), name)
                     self.assertFalse(isinstance(node.value, str) and "%" in node.value, name)
@@ -67,3 +75,50 @@ class Language(unittest.TestCase):
             given = {node.arg for node in ast.walk(tree) if isinstance(node, ast.arg)}
             given |= {node.id for node in words if isinstance(node.ctx, ast.Store)}
             self.assertEqual(sorted(given & set(dir(builtins))), [], name)
+
+    def test_sets_are_counted_at_once(self):
+        for name, tree in trees():
+            parents = {inner: node for node in ast.walk(tree) for inner in ast.iter_child_nodes(node)}
+            for node in ast.walk(tree):
+                if isinstance(node, ast.Name) and node.id in ("set", "frozenset"):
+                    above = parents[parents[node]]
+                    self.assertTrue(isinstance(above, ast.Call) and above.func.id in ("len", "sorted"), name)
+
+    def test_names_of_imports_and_classes_mean_nothing_else(self):
+        for name, tree in trees():
+            bound = [node.name for node in tree.body if isinstance(node, ast.ClassDef)]
+            bound += [alias.name for node in tree.body if isinstance(node, ast.ImportFrom) for alias in node.names]
+            self.assertEqual(len(bound), len(set(bound)), name)
+            given = [node.arg for node in ast.walk(tree) if isinstance(node, ast.arg)]
+            given += [node.name for node in ast.walk(tree) if isinstance(node, ast.FunctionDef)]
+            given += [node.id for node in ast.walk(tree) if isinstance(node, ast.Name) and isinstance(node.ctx, ast.Store)]
+            self.assertEqual(sorted(set(given) & set(bound)), [], name)
+            self.assertEqual(sorted((set(given) | set(bound)) & WORDS_NOT_USED), [], name)
+
+    def test_attributes_are_own_ones_or_known_methods(self):
+        own, read = set(), set()
+        for name, tree in trees():
+            for node in ast.walk(tree):
+                if isinstance(node, ast.ClassDef):
+                    own |= {method.name for method in node.body if isinstance(method, ast.FunctionDef)}
+                if isinstance(node, ast.Attribute):
+                    (own if isinstance(node.ctx, ast.Store) else read).add(node.attr)
+        self.assertEqual(sorted(read - own - METHODS), [])
+
+    def test_no_two_files_import_from_each_other(self):
+        needed = {}
+        for name, tree in trees():
+            inner = [node.module.split(".")[1] + ".py" for node in tree.body
+                     if isinstance(node, ast.ImportFrom) and node.module.startswith("runturns.")]
+            needed[name] = set(inner)
+        while needed:
+            free = [name for name in needed if not needed[name]]
+            self.assertNotEqual(free, [], needed)
+            needed = {name: needed[name] - set(free) for name in needed if name not in free}
+
+    def test_each_import_is_used(self):
+        for name, tree in trees():
+            used = {node.id for node in ast.walk(tree) if isinstance(node, ast.Name)}
+            for node in tree.body:
+                if isinstance(node, ast.ImportFrom):
+                    self.assertLessEqual({alias.name for alias in node.names}, used, name)
