@@ -117,11 +117,15 @@ def numbers_of(knot):
     return [firsts.index(part.first) for part in knot.parts]
 
 
+def books_of_all(parts):
+    """The tuple of the books of some knots, one after the other."""
+    return tuple([book for part in parts for book in part.books])
+
+
 def unions_of(parts):
     """The tuples of the books of two or more neighbours of some knots in the order of the catalogue."""
     many = len(parts)
-    lots = [parts[start:end] for start in range(many) for end in range(start + 2, many + 1)]
-    return [tuple([book for part in lot for book in part.books]) for lot in lots]
+    return [books_of_all(parts[start:end]) for start in range(many) for end in range(start + 2, many + 1)]
 
 
 def knots(shelf):

@@ -126,7 +126,7 @@ def turned_over(shelf, turns):
     """The ascending list of the books that turns turn over an odd number of times."""
     check_turns(shelf, turns)
     often = {book: len([run for run in turns if book in run]) for book in shelf.catalogue()}
-    return sorted([book for book in often if often[book] & 1 == 1])
+    return sorted([book for book in often if often[book] % 2 == 1])
 
 
 def _are_faces(books, value):

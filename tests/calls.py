@@ -4,8 +4,12 @@ import copy
 import itertools
 
 from runturns import errors
+from runturns.homes import awry_runs, home_of
+from runturns.lots import met, shelf_of
+from runturns.prices import meeting_shelf
 from runturns.runs import all_runs, run_turned
 from runturns.shelves import Shelf, changed, changed_by, exchanged, flipped, mirrored, renamed, shelf_at, shelf_number
+from runturns.ways import led
 from tests.helpers import any_objects, check_error, names_of_parameters, same
 
 
@@ -31,10 +35,13 @@ def made_elsewhere(shelf):
     """Shelves that are equal to one, made in other ways."""
     names = {book: "x" + "abcdefghijkl"[at] for at, book in enumerate(shelf.catalogue())}
     back = {name: book for book, name in names.items()}
-    made = [flipped(flipped(shelf)), mirrored(mirrored(shelf)), exchanged(exchanged(shelf)),
+    run = all_runs(shelf)[:1]
+    return [flipped(flipped(shelf)), mirrored(mirrored(shelf)), exchanged(exchanged(shelf)),
             shelf_at(shelf.catalogue(), shelf_number(shelf)), renamed(renamed(shelf, names), back),
-            changed_by(changed(shelf, ("put", "qqqqqqqq", 0, 0)), [("out", "qqqqqqqq")])]
-    return made + [run_turned(run_turned(shelf, run), run) for run in all_runs(shelf)[:1]]
+            changed_by(changed(shelf, ("put", "qqqqqqqq", 0, 0)), [("out", "qqqqqqqq")]),
+            run_turned(run_turned(shelf, run[0]), run[0]) if run else shelf, shelf_of(shelf, awry_runs(shelf)),
+            met(shelf, shelf), led(home_of(shelf), awry_runs(shelf)), led(shelf, run + run),
+            meeting_shelf([shelf, shelf, home_of(shelf)], {})]
 
 
 def with_shelves(value, make):
@@ -101,11 +108,10 @@ class RightCalls:
     def test_shelves_that_were_made_elsewhere(self):
         for function, arguments in self.each():
             told = function(*arguments)
-            for at in range(6):
+            for at in range(len(made_elsewhere(Shelf(["a"], ["a"])))):
                 made = with_shelves(arguments, lambda shelf: made_elsewhere(shelf)[at])
+                self.assertTrue(same(made, arguments))
                 self.assertTrue(same(function(*made), told))
-            made = with_shelves(arguments, lambda shelf: made_elsewhere(shelf)[-1])
-            self.assertTrue(same(function(*made), told))
 
 
 class TwoShelves:

@@ -5,7 +5,7 @@ import itertools
 import random
 
 from runturns.shelves import Shelf
-from tests.helpers import runs_by_entries, shelves_of
+from tests.helpers import is_one_of, runs_by_entries, shelves_of
 
 LETTERS = "abcdefghijklmnopqrstuvwxyz"
 # A rising row, a falling one, one crossed knot, and crossed knots within straight ones and the other way about.
@@ -114,6 +114,24 @@ def slow_turned(shelf, run):
     for place, book in zip(places, books):
         row[place] = book
     return Shelf(shelf.catalogue(), row)
+
+
+def are_turns_of(shelf):
+    def judge(value):
+        if type(value) is not list:
+            return False
+        reached = shelf
+        for run in value:
+            if not is_one_of(slow_runs(reached))(run):
+                return False
+            reached = slow_turned(reached, run)
+        return True
+    return judge
+
+
+def neighbours(catalogue):
+    return sorted(tuple(catalogue[start:end]) for start, end in itertools.combinations(range(len(catalogue) + 1), 2)
+                  if end - start > 1)
 
 
 def row_key(shelf):

@@ -92,6 +92,77 @@ ups, downs = {"a": "+", "b": "+", "c": "+"}, {"a": "+", "b": "+", "c": "-"}
 # [True, False, True]
 """
 
+WAYS = """
+from runturns.shelves import Shelf
+from runturns.ways import ahead_of, first_runs, differing_runs, even, fewest_turns, is_shortest_way, is_way, led, many_ways, odd_runs, shortest_way, way_at, way_place
+abc = ["a", "b", "c"]
+home, left, right, last = Shelf(abc, ["a", "b", "c"]), Shelf(abc, ["b", "a", "c"]), Shelf(abc, ["a", "c", "b"]), Shelf(abc, ["c", "a", "b"])
+[led(left, [("a", "b"), ("b", "c")]) == right, is_way(left, right, [("b", "c")]), differing_runs(left, right), fewest_turns(left, right), fewest_turns(left, left)]
+# [True, False, [('a', 'b'), ('b', 'c')], 2, 0]
+[shortest_way(left, right), ahead_of(left, right), many_ways(left, right), many_ways(home, last), differing_runs(left, last)]
+# [[('a', 'b'), ('b', 'c')], [(('a', 'b'), ('b', 'c'))], 1, 2, [('a', 'b', 'c')]]
+[way_at(home, last, 0), way_at(home, last, 1), way_place(home, last, [("a", "b", "c"), ("a", "b")]), first_runs(home, last), even(home, last)]
+# [[('a', 'b'), ('a', 'b', 'c')], [('a', 'b', 'c'), ('a', 'b')], 1, [('a', 'b'), ('a', 'b', 'c')], True]
+[odd_runs(home, [("a", "b"), ("a", "b", "c"), ("a", "b")]), is_way(home, Shelf(abc, ["c", "b", "a"]), [("a", "b"), ("a", "b", "c"), ("a", "b")])]
+# [[('a', 'b', 'c')], True]
+crossed = Shelf(["a", "b", "c", "d"], ["b", "d", "a", "c"])
+[fewest_turns(crossed, Shelf(["a", "b", "c", "d"], ["c", "a", "d", "b"])), fewest_turns(crossed, Shelf(["a", "b", "c", "d"], ["a", "b", "c", "d"])), is_shortest_way(crossed, crossed, [])]
+# [1, None, True]
+"""
+
+PRICES = """
+from runturns.prices import are_cheapest, cheapest_turns, farthest_price, is_farthest_at_price, is_meeting_shelf, least_price, many_at_price, meeting_price, meeting_shelf, price_of, prices_by_size
+from runturns.shelves import Shelf
+abc = ["a", "b", "c"]
+home, first, last = Shelf(abc, ["a", "b", "c"]), Shelf(abc, ["b", "a", "c"]), Shelf(abc, ["a", "c", "b"])
+both, back = Shelf(abc, ["c", "a", "b"]), Shelf(abc, ["c", "b", "a"])
+dear = {("a", "b"): 5, ("a", "b", "c"): 2}
+[least_price(home, both, dear), least_price(first, back, dear), least_price(first, last, dear), least_price(home, home, dear), price_of(home, [("a", "b"), ("a", "b")], dear)]
+# [7, 7, 6, 0, 10]
+[cheapest_turns(first, last, {}), are_cheapest(first, last, {}, [("b", "c"), ("a", "b")]), are_cheapest(home, first, {("a", "b", "c"): 0}, [("a", "b", "c"), ("a", "b"), ("a", "b", "c")])]
+# [[('a', 'b'), ('b', 'c')], False, True]
+[many_at_price(home, {}, 3), many_at_price(both, {}, 3), many_at_price(both, {("a", "b"): 0}, 2), farthest_price(home, {("a", "b"): 5}), farthest_price(first, {("a", "b"): 5}), is_farthest_at_price(home, {("a", "b"): 5}, both)]
+# [[1, 3, 2, 0], [1, 3, 2, 0], [2, 3, 1], 6, 7, True]
+[meeting_price([first, both, last], dear), meeting_shelf([first, both, last], dear) == first, is_meeting_shelf([first, last], {("b", "c"): 0}, both), meeting_price([first, last], {("b", "c"): 0})]
+# [8, True, False, 1]
+prices_by_size(abc, [4, 1])
+# {('a', 'b'): 4, ('a', 'b', 'c'): 1, ('b', 'c'): 4}
+"""
+
+ARMS = """
+from runturns.arms import are_turns_without, barred_by_size, barring_runs, joined_without, least_arms, many_without, parts_without, turns_without
+from runturns.shelves import Shelf
+abc = ["a", "b", "c"]
+home, first, both = Shelf(abc, ["a", "b", "c"]), Shelf(abc, ["b", "a", "c"]), Shelf(abc, ["c", "a", "b"])
+bar = [("a", "b")]
+[joined_without(first, both, bar), joined_without(home, first, bar), barring_runs(home, first, bar), turns_without(first, both, bar), turns_without(home, both, bar)]
+# [True, False, [('a', 'b')], [('a', 'b', 'c')], None]
+[many_without(home, bar), many_without(first, bar), parts_without(home, bar), least_arms(home, both), least_arms(home, first), least_arms(home, home)]
+# [4, 2, 2, 3, 2, 0]
+[barred_by_size(abc, 2), parts_without(home, barred_by_size(abc, 2)), are_turns_without(home, both, [], [("a", "b"), ("a", "b", "c")]), are_turns_without(home, both, [], [("a", "b", "c"), ("a", "b")])]
+# [[('a', 'b', 'c')], 2, True, True]
+"""
+
+SORTING = """
+from runturns.shelves import Shelf
+from runturns.sorting import always_out, bad_four_in, bad_fours, can_be_sorted, fewest_out, is_books_out, is_nest, least_outs, nest, never_out, sortable_runs, sorting_turns, sorts_without
+abc = ["a", "b", "c"]
+[sorting_turns(Shelf(abc, ["b", "a", "c"])), sorting_turns(Shelf(abc, ["c", "b", "a"])), sorting_turns(Shelf(abc, ["c", "a", "b"]))]
+# [1, 1, 2]
+[nest(Shelf(abc, ["c", "a", "b"])), nest(Shelf(abc, abc)), is_nest(Shelf(abc, abc), ("+", "a", ("+", "b", "c"))), is_nest(Shelf(abc, abc), ("+", "a", ("-", "b", "c")))]
+# [('-', 'c', ('+', 'a', 'b')), ('+', 'a', 'b', 'c'), True, False]
+crossed = Shelf(["a", "b", "c", "d"], ["b", "d", "a", "c"])
+[can_be_sorted(crossed), sorting_turns(crossed), bad_fours(crossed), nest(crossed), least_outs(crossed), sortable_runs(crossed)]
+# [False, None, [('b', 'd', 'a', 'c')], None, [['a'], ['b'], ['c'], ['d']], []]
+five = Shelf(["a", "b", "c", "d", "e"], ["c", "e", "a", "b", "d"])
+[bad_fours(five), least_outs(five), fewest_out(five), is_books_out(five, ["d"]), is_books_out(five, ["a", "b"]), sortable_runs(five)]
+# [[('c', 'e', 'a', 'd'), ('c', 'e', 'b', 'd')], [['a', 'b'], ['c'], ['d'], ['e']], 1, True, False, [('a', 'b')]]
+[sorts_without(five, ["a"]), sorts_without(five, ["a", "b"]), always_out(five), never_out(five), never_out(Shelf(abc, abc))]
+# [False, True, [], [], ['a', 'b', 'c']]
+bad_four_in(crossed, ("a", "b", "c", "d"))
+# ('b', 'd', 'a', 'c')
+"""
+
 
 def told_by(block):
     """Tuples of a line, the representation of what it gives, and the one that stands below it."""
@@ -125,3 +196,15 @@ class Examples(unittest.TestCase):
 
     def test_lots(self):
         self.check(LOTS, 6)
+
+    def test_ways(self):
+        self.check(WAYS, 5)
+
+    def test_prices(self):
+        self.check(PRICES, 5)
+
+    def test_arms(self):
+        self.check(ARMS, 3)
+
+    def test_sorting(self):
+        self.check(SORTING, 6)

@@ -11,8 +11,8 @@ from tests.calls import Names, RightCalls, TwoShelves
 from tests.helpers import ABC, Arguments, WrongArguments, any_objects, catalogue_is_right, check_error, is_one_of
 from tests.helpers import is_shelf, same, shelves_of
 from tests.slow import TWELVE_BOOKS, class_of, crossed_rows, drawn_of_small_class, many_shelves, row_key
-from tests.slow import shelf_of_ranks, shelves_of_twelve, shelves_to_four, slow_awry, slow_core, slow_crossed, slow_heaps
-from tests.slow import slow_knots, slow_numbers, slow_parts, slow_runs, slow_turned
+from tests.slow import shelf_of_ranks, shelves_of_twelve, shelves_to_four, slow_awry, slow_core, slow_crossed
+from tests.slow import slow_heaps, slow_knots, slow_numbers, slow_parts, slow_runs, slow_turned
 
 CAB, ONE = Shelf(ABC, ["c", "a", "b"]), Shelf(["z"], ["z"])
 ABCD, WHOLE = ["a", "b", "c", "d"], ("a", "b", "c", "d")
@@ -251,7 +251,8 @@ class Cores(unittest.TestCase):
 def spoilt_cores():
     """For a catalogue of four books or more, values that are nearly cores."""
     crossed = [(1, 3, 0, 2), [1, 3, 0], [1, 3, 0, 2, 4], [1, 3, 0, 3], [True, 3, 0, 2], [1, 3, False, 2],
-               [2, 0, 3, 1], [0, 1, 2, 3], [1, 0, 3, 2], [1, 3, 2, 0], [1, 4, 0, 2], [1, 3, -1, 2], ["1", "3", "0", "2"],
+               [2, 0, 3, 1], [0, 1, 2, 3], [1, 0, 3, 2], [1, 3, 2, 0], [1, 4, 0, 2], [1, 3, -1, 2],
+               ["1", "3", "0", "2"], [1, 3, 0, 2, 2], [1, 3, 0, 2, 0], [1, 3, 3, 0, 2],
                [0, 2, 1, 3], [None] * 4, [[1], 3, 0, 2], "1302", None, [2, 4, 1, 3], [0, 2, 3, 1]]
     return [("crossed", numbers, ["a", "b", "c", "d"]) for numbers in crossed] + [
         ("crossed", [1, 3, 0, 2], ["a", "b", "d", "c"]), ("crossed", [1, 3, 0, 2], ("a", "b", "c", "d")),
@@ -283,6 +284,12 @@ class AnyCores(unittest.TestCase):
             self.assertIs(is_core(ABCD, value), False, repr(value))
             check_error(self, shelf_with, [ABCD, value], errors.InvalidCore, value)
         self.assertEqual([is_core(ABCD, value) for value in (CROSSED, ("heap", ABCD))], [True, True])
+
+    def test_crossed_knots_have_four_parts_at_least(self):
+        for many in range(4):
+            for numbers in itertools.permutations(range(many)):
+                books = ABC[:many]
+                self.assertIs(is_core(books or ["a"], ("crossed", list(numbers), books)), False)
 
     def test_nested_values_that_are_cores(self):
         books = list("abcdefghij")

@@ -63,7 +63,8 @@ class WrongInputs(WrongArguments, Names, unittest.TestCase):
 
 
 CALLS = [(function, [shelf]) for function in (knots, tree_of, depth) for shelf in (CAB, WILD, ONE, PLAIN)]
-CALLS += [(function, [shelf, knot]) for function in (parts_of, knot_around, part_numbers, kind_of, sign_of, runs_of_knot)
+CALLS += [(function, [shelf, knot])
+          for function in (parts_of, knot_around, part_numbers, kind_of, sign_of, runs_of_knot)
           for shelf, knot in ((CAB, ("a", "b")), (CAB, ("c",)), (WILD, tuple(ABCD)), (ONE, ("z",)))]
 CALLS += [(function, [shelf, run]) for function in (knots_lost, knots_gained)
           for shelf, run in ((CAB, ("a", "b")), (PLAIN, ("b", "c")), (WILD, tuple(ABCD)))]

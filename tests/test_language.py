@@ -17,7 +17,8 @@ BUILTINS = set("""len range enumerate zip min max sum abs sorted reversed int st
     RuntimeError NotImplementedError AttributeError StopIteration NotImplemented""".split())
 BARRED = (ast.Global, ast.AsyncFunctionDef, ast.AsyncFor, ast.AsyncWith, ast.Await, ast.Import, ast.Div)
 # A class of the package has an __eq__, so any, all, min, max, sum and sorted take lists (L7).
-NOT_USED = (ast.GeneratorExp, ast.Yield, ast.YieldFrom, ast.Pow, ast.Starred, ast.Nonlocal, ast.Set, ast.SetComp, ast.Try)
+NOT_USED = (ast.GeneratorExp, ast.Yield, ast.YieldFrom, ast.Pow, ast.Starred, ast.Nonlocal, ast.Set, ast.SetComp,
+            ast.Try)
 METHODS = set("""append clear copy count endswith extend find get index insert isalnum isalpha isdigit islower isspace
     isupper items join keys ljust lower lstrip partition pop remove replace reverse rfind rjust rpartition rsplit rstrip
     setdefault split splitlines startswith strip update upper values zfill bit_length""".split())
@@ -89,9 +90,10 @@ class Language(unittest.TestCase):
             bound = [node.name for node in tree.body if isinstance(node, ast.ClassDef)]
             bound += [alias.name for node in tree.body if isinstance(node, ast.ImportFrom) for alias in node.names]
             self.assertEqual(len(bound), len(set(bound)), name)
+            words = [node for node in ast.walk(tree) if isinstance(node, ast.Name)]
             given = [node.arg for node in ast.walk(tree) if isinstance(node, ast.arg)]
             given += [node.name for node in ast.walk(tree) if isinstance(node, ast.FunctionDef)]
-            given += [node.id for node in ast.walk(tree) if isinstance(node, ast.Name) and isinstance(node.ctx, ast.Store)]
+            given += [node.id for node in words if isinstance(node.ctx, ast.Store)]
             self.assertEqual(sorted(set(given) & set(bound)), [], name)
             self.assertEqual(sorted((set(given) | set(bound)) & WORDS_NOT_USED), [], name)
 

@@ -10,8 +10,9 @@ from runturns.lots import joined_with_faces, met, shelf_of, turnable_runs, turne
 from runturns.shelves import Shelf
 from tests.calls import Names, RightCalls, TwoShelves
 from tests.helpers import ABC, Arguments, WrongArguments, any_objects, check_error, is_one_of, is_shelf, same
-from tests.slow import class_of, classes_to_four, drawn_of_small_class, many_shelves, overlap_as_sets, row_key
-from tests.slow import shelves_of_twelve, shelves_to_four, slow_around, slow_awry, slow_runs, slow_sign, slow_turned
+from tests.slow import are_turns_of, class_of, classes_to_four, drawn_of_small_class, many_shelves, overlap_as_sets
+from tests.slow import row_key, shelves_of_twelve, shelves_to_four, slow_around, slow_awry, slow_runs, slow_sign
+from tests.slow import slow_turned
 
 HOME, LEFT, RIGHT, CAB = [Shelf(ABC, list(row)) for row in ("abc", "bac", "acb", "cab")]
 ABCD, ONE = ["a", "b", "c", "d"], Shelf(["z"], ["z"])
@@ -34,19 +35,6 @@ def are_turnable_of_abc(value):
 
 def is_lot_of_abc(value):
     return are_turnable_of_abc(value) and not (AB in value and BC in value)
-
-
-def are_turns_of(shelf):
-    def judge(value):
-        if type(value) is not list:
-            return False
-        reached = shelf
-        for run in value:
-            if not is_one_of(slow_runs(reached))(run):
-                return False
-            reached = slow_turned(reached, run)
-        return True
-    return judge
 
 
 def are_faces_of_abc(value):
@@ -306,9 +294,9 @@ class Faces(unittest.TestCase):
 
     def test_turned_over(self):
         drawn = random.Random(7)
-        for shelf in many_shelves():
+        for shelf, many in itertools.product(many_shelves(), (0, 1, 5, 12)):
             reached, turns = shelf, []
-            for _ in range(12 if slow_runs(shelf) else 0):
+            for _ in range(many if slow_runs(shelf) else 0):
                 turns.append(drawn.choice(slow_runs(reached)))
                 reached = slow_turned(reached, turns[-1])
             wanted = sorted(book for book in shelf.catalogue() if sum(book in run for run in turns) % 2)
