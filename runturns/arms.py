@@ -1,10 +1,10 @@
 """Shelves of which some runs may not be turned."""
 
 from runturns.counts import is_count
-from runturns.errors import Apart, InvalidArms, InvalidCatalogue, InvalidCount
-from runturns.homes import are_of_one_class, awry_runs
+from runturns.errors import InvalidArms, InvalidCatalogue, InvalidCount
+from runturns.homes import awry_runs, check_one_class
 from runturns.lots import shelf_awry_by, turnable_runs
-from runturns.runs import books_overlap, neighbours_of
+from runturns.runs import neighbours_of, overlaps_one_of
 from runturns.shelves import are_ascending, check_alike, check_shelf, is_catalogue
 from runturns.tables import many_lots
 from runturns.ways import differing_runs, is_shortest_way, shortest_way
@@ -52,8 +52,7 @@ def are_turns_without(one, other, barred, value):
 def barring_runs(one, other, barred):
     """The ascending list of the barred runs that stand awry in just one of two joined shelves."""
     _check_two(one, other, barred)
-    if not are_of_one_class(one, other):
-        raise Apart(other)
+    check_one_class([one, other])
     return [run for run in differing_runs(one, other) if run in barred]
 
 
@@ -61,15 +60,11 @@ def _barred_and_awry(shelf, barred):
     return [run for run in awry_runs(shelf) if run in barred]
 
 
-def _overlaps_one_of(run, others):
-    return any([books_overlap(run, other) for other in others])
-
-
 def many_without(shelf, barred):
     """To how many shelves turns of runs that are not barred lead from a shelf, itself among them."""
     _check_one(shelf, barred)
     kept = _barred_and_awry(shelf, barred)
-    free = [run for run in turnable_runs(shelf) if run not in barred and not _overlaps_one_of(run, kept)]
+    free = [run for run in turnable_runs(shelf) if run not in barred and not overlaps_one_of(run, kept)]
     return many_lots(shelf, free)
 
 
@@ -98,7 +93,7 @@ def needless_bars(shelf, barred):
     """The ascending list of the barred runs without which the part of a shelf is the same."""
     _check_one(shelf, barred)
     turnable, kept = turnable_runs(shelf), _barred_and_awry(shelf, barred)
-    return [run for run in barred if run not in turnable or _overlaps_one_of(run, kept)]
+    return [run for run in barred if run not in turnable or overlaps_one_of(run, kept)]
 
 
 def least_of_part(shelf, barred):

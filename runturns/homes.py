@@ -9,21 +9,21 @@ from runturns.shelves import Shelf, check_alike, check_shelf, is_book, is_catalo
 HEAP = "heap"
 
 
-def _awry_within(knot, sign):
+def awry_within(knot, sign):
     """The knots that stand awry of a knot and of those within; the sign is that of the knot around it."""
     found = []
     # A book has no sign.
     if knot.sign is not None and knot.sign != sign:
         found.append(knot.books)
     for part in knot.parts:
-        found += _awry_within(part, knot.sign)
+        found += awry_within(part, knot.sign)
     return found
 
 
 def awry_runs(shelf):
     """The ascending list of the knots that stand awry."""
     check_shelf(shelf)
-    return sorted(_awry_within(whole_knot(shelf), "+"))
+    return sorted(awry_within(whole_knot(shelf), "+"))
 
 
 def things_of(knot):
@@ -118,6 +118,13 @@ def check_joined(one, other):
     """Raise InvalidShelf, Unlike, Apart unless two joined shelves are handed."""
     if not are_joined(one, other):
         raise Apart(other)
+
+
+def check_one_class(shelves):
+    """Raise Apart with the first of some shelves of one catalogue that is not joined with the first one."""
+    for shelf in shelves:
+        if not are_of_one_class(shelves[0], shelf):
+            raise Apart(shelf)
 
 
 def _crossings(shelf):

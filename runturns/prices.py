@@ -1,11 +1,11 @@
 """Turns that cost something: least prices, places to meet, and shelves by their price."""
 
 from runturns.counts import is_count
-from runturns.errors import Apart, InvalidCatalogue, InvalidCount, InvalidPrices, InvalidShelves, Unlike
-from runturns.homes import are_of_one_class, awry_runs
+from runturns.errors import InvalidCatalogue, InvalidCount, InvalidPrices, InvalidShelves
+from runturns.homes import are_of_one_class, awry_runs, check_one_class
 from runturns.lots import shelf_awry_by, turnable_runs
 from runturns.runs import check_turns, neighbours_of
-from runturns.shelves import Shelf, check_alike, check_shelf, is_catalogue
+from runturns.shelves import Shelf, check_alike, check_one_catalogue, check_shelf, is_catalogue
 from runturns.tables import dearest_lot, lots_by_price
 from runturns.ways import differing_runs, is_way, shortest_way
 
@@ -80,13 +80,9 @@ def _check_meeting(shelves, prices):
     """Raise InvalidShelves, Unlike, InvalidPrices, Apart unless joined shelves and prices are handed."""
     if not isinstance(shelves, list) or shelves == [] or not all([isinstance(shelf, Shelf) for shelf in shelves]):
         raise InvalidShelves(shelves)
-    for shelf in shelves:
-        if shelf.catalogue() != shelves[0].catalogue():
-            raise Unlike(shelf)
+    check_one_catalogue(shelves)
     _check_prices(shelves[0], prices)
-    for shelf in shelves:
-        if not are_of_one_class(shelves[0], shelf):
-            raise Apart(shelf)
+    check_one_class(shelves)
 
 
 def _price_of_meeting(shelves, prices, place):

@@ -104,10 +104,20 @@ def _shared(one, other):
     return [book for book in one if book in other]
 
 
+def each_alone(one, other):
+    """Those of one list of runs that are not in the other one, and those of the other that are not in the one."""
+    return [run for run in one if run not in other], [run for run in other if run not in one]
+
+
 def books_overlap(one, other):
     """Whether two tuples of books overlap as sets: they share a book and none holds the other one."""
     shared = len(_shared(one, other))
     return shared > 0 and shared < len(one) and shared < len(other)
+
+
+def overlaps_one_of(run, others):
+    """Whether a tuple of books overlaps one of some others."""
+    return any([books_overlap(run, other) for other in others])
 
 
 def _check_two_runs(shelf, one, other):

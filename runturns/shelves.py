@@ -27,6 +27,11 @@ def is_catalogue(value):
     return all([is_book(book) for book in value]) and len(set(value)) == len(value)
 
 
+def is_lot_of_books(value):
+    """Whether any object is a tuple of two or more unlike books."""
+    return isinstance(value, tuple) and len(value) > 1 and is_catalogue(list(value))
+
+
 def are_ascending(value):
     """Whether a list of books, or one of tuples of books, ascends without doubles."""
     return all([one < other for one, other in zip(value, value[1:])])
@@ -44,13 +49,18 @@ def are_ascending_of(books, value):
     return are_unlike_of(books, value) and are_ascending(value)
 
 
+def is_row_of(catalogue, value):
+    """Whether any object is a row of a catalogue."""
+    return are_unlike_of(catalogue, value) and len(value) == len(catalogue)
+
+
 class Shelf:
     """A catalogue and a row of it; a shelf never changes."""
 
     def __init__(self, catalogue, row):
         if not is_catalogue(catalogue):
             raise InvalidCatalogue(catalogue)
-        if not are_unlike_of(catalogue, row) or len(row) != len(catalogue):
+        if not is_row_of(catalogue, row):
             raise InvalidRow(row)
         self._catalogue = list(catalogue)
         self._row = list(row)
@@ -73,12 +83,18 @@ def check_shelf(shelf):
         raise InvalidShelf(shelf)
 
 
+def check_one_catalogue(shelves):
+    """Raise Unlike with the first of some shelves whose catalogue is not that of the first one."""
+    for shelf in shelves:
+        if shelf.catalogue() != shelves[0].catalogue():
+            raise Unlike(shelf)
+
+
 def check_alike(one, other):
     """Raise InvalidShelf, Unlike unless two shelves of one catalogue are handed."""
     check_shelf(one)
     check_shelf(other)
-    if one.catalogue() != other.catalogue():
-        raise Unlike(other)
+    check_one_catalogue([one, other])
 
 
 def check_book_of(shelf, book):
@@ -122,6 +138,12 @@ def is_change(value):
     return all([is_count(number) for number in value[2:]])
 
 
+def check_changes(changes):
+    """Raise InvalidChanges unless a list of changes by their form is handed."""
+    if not isinstance(changes, list) or not all([is_change(change) for change in changes]):
+        raise InvalidChanges(changes)
+
+
 def fits(shelf, change):
     """Whether a change, by its form one, fits a shelf."""
     word, book = change[0], change[1]
@@ -136,11 +158,13 @@ def fits(shelf, change):
     return change[2] < len(order) and order[change[2]] != book
 
 
-def _without(books, book):
+def books_without(books, book):
+    """The list of some books, without one of them."""
     return [one for one in books if one != book]
 
 
-def _with_at(books, book, at):
+def books_with_at(books, book, at):
+    """The list of some books, with a new one at a position."""
     return books[:at] + [book] + books[at:]
 
 
@@ -148,12 +172,12 @@ def _made(shelf, change):
     """The shelf that a change makes of one that it fits."""
     word, book, catalogue, row = change[0], change[1], shelf.catalogue(), shelf.row()
     if word == "put":
-        return Shelf(_with_at(catalogue, book, change[2]), _with_at(row, book, change[3]))
+        return Shelf(books_with_at(catalogue, book, change[2]), books_with_at(row, book, change[3]))
     if word == "out":
-        return Shelf(_without(catalogue, book), _without(row, book))
+        return Shelf(books_without(catalogue, book), books_without(row, book))
     if word == "move":
-        return Shelf(catalogue, _with_at(_without(row, book), book, change[2]))
-    return Shelf(_with_at(_without(catalogue, book), book, change[2]), row)
+        return Shelf(catalogue, books_with_at(books_without(row, book), book, change[2]))
+    return Shelf(books_with_at(books_without(catalogue, book), book, change[2]), row)
 
 
 def changed(shelf, change):
@@ -167,8 +191,7 @@ def changed(shelf, change):
 def changed_by(shelf, changes):
     """The shelf that a list of changes makes, one after the other."""
     check_shelf(shelf)
-    if not isinstance(changes, list) or not all([is_change(change) for change in changes]):
-        raise InvalidChanges(changes)
+    check_changes(changes)
     reached = shelf
     for change in changes:
         if not fits(reached, change):

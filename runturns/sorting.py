@@ -5,6 +5,7 @@ from itertools import combinations
 from runturns.errors import InvalidBooks
 from runturns.homes import awry_runs
 from runturns.knots import BOOK, CROSSED, all_knots, crossed_knot_named, whole_knot
+from runturns.least import least_lots, lies_in
 from runturns.runs import all_runs
 from runturns.shelves import are_ascending_of, check_shelf, cut_to, is_book, ranks
 
@@ -105,20 +106,10 @@ def _has_one_of(lot, books):
     return any([book in lot for book in books])
 
 
-def _lies_in(books, others):
-    return all([book in others for book in books])
-
-
 def least_outs(shelf):
     """The ascending list of the least lists of books without which a shelf can be sorted."""
-    fours, books, found = bad_fours(shelf), sorted(shelf.catalogue()), []
-    # Those of fewer books come first, so each list that lies within another one is found ahead of it.
-    for size in range(len(books)):
-        for some in combinations(books, size):
-            enough = all([_has_one_of(four, some) for four in fours])
-            if enough and not any([_lies_in(lesser, some) for lesser in found]):
-                found.append(list(some))
-    return sorted(found)
+    fours, books = bad_fours(shelf), sorted(shelf.catalogue())
+    return least_lots(books, len(books) - 1, lambda some: all([_has_one_of(four, some) for four in fours]))
 
 
 def _fewest_outs(shelf):
@@ -158,5 +149,5 @@ def never_out(shelf):
 def sortable_runs(shelf):
     """The ascending list of the greatest runs whose books alone can be sorted."""
     fours = bad_fours(shelf)
-    found = [run for run in all_runs(shelf) if not any([_lies_in(four, run) for four in fours])]
-    return [run for run in found if not any([_lies_in(run, other) and run != other for other in found])]
+    found = [run for run in all_runs(shelf) if not any([lies_in(four, run) for four in fours])]
+    return [run for run in found if not any([lies_in(run, other) and run != other for other in found])]

@@ -3,7 +3,7 @@
 from runturns.counts import is_count_below
 from runturns.errors import InvalidCount, InvalidTurns
 from runturns.homes import are_joined, awry_runs, check_joined
-from runturns.runs import books_overlap, check_turns, shelf_behind
+from runturns.runs import books_overlap, check_turns, each_alone, shelf_behind
 from runturns.shelves import check_alike, check_shelf
 
 
@@ -23,14 +23,13 @@ def is_way(one, other, value):
     return reached is not None and reached == other
 
 
-def _rests(one, other):
+def awry_alone(one, other):
     """The runs that stand awry in just the first one of two shelves, and those in just the second one."""
-    firsts, seconds = awry_runs(one), awry_runs(other)
-    return [run for run in firsts if run not in seconds], [run for run in seconds if run not in firsts]
+    return each_alone(awry_runs(one), awry_runs(other))
 
 
 def _awry_in_just_one(one, other):
-    early, late = _rests(one, other)
+    early, late = awry_alone(one, other)
     return sorted(early + late)
 
 
@@ -57,7 +56,7 @@ def shortest_way(one, other):
     if not are_joined(one, other):
         return None
     # What stands awry in just the first one may be in the way of what has to come in, never the other way about.
-    early, late = _rests(one, other)
+    early, late = awry_alone(one, other)
     return early + late
 
 
@@ -73,7 +72,7 @@ def _overlapping_pairs(early, late):
 def ahead_of(one, other):
     """The ascending list of the tuples of two differing runs the first of which all shortest ways turn first."""
     check_joined(one, other)
-    early, late = _rests(one, other)
+    early, late = awry_alone(one, other)
     return sorted(_overlapping_pairs(early, late))
 
 
@@ -81,7 +80,7 @@ class Orders:
     """The orders of the differing runs that are the shortest ways; runs that are turned are told by bits."""
 
     def __init__(self, one, other):
-        early, late = _rests(one, other)
+        early, late = awry_alone(one, other)
         pairs = _overlapping_pairs(early, late)
         self.runs = sorted(early + late)
         self.ahead = [[self.runs.index(run) for run, later in pairs if later == mine] for mine in self.runs]

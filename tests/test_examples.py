@@ -163,6 +163,62 @@ bad_four_in(crossed, ("a", "b", "c", "d"))
 # ('b', 'd', 'a', 'c')
 """
 
+NUMBERS = """
+from runturns.numbers import class_count, class_place, class_shelf, class_size, classes_by_size, crossed_count, is_farthest_pair, most_turns, sorted_by_turns, sorted_count, turns_from_home, unsorted_least
+from runturns.shelves import Shelf
+abc = ["a", "b", "c"]
+low, high = Shelf(abc, abc), Shelf(abc, ["c", "b", "a"])
+[class_size(low), turns_from_home(high), most_turns(low), class_place(high), class_shelf(high, 1) == Shelf(abc, ["a", "c", "b"])]
+# [6, [1, 3, 2], 3, 5, True]
+[is_farthest_pair(low, (Shelf(abc, ["b", "a", "c"]), Shelf(abc, ["c", "a", "b"]))), is_farthest_pair(low, (Shelf(abc, ["b", "a", "c"]), Shelf(abc, ["b", "c", "a"])))]
+# [False, True]
+five = Shelf(["a", "b", "c", "d", "e"], ["c", "e", "a", "b", "d"])
+[class_size(five), turns_from_home(five), most_turns(five)]
+# [4, [1, 2, 1], 2]
+[[class_count(size) for size in [1, 2, 3, 4, 5, 6, 7]], classes_by_size(5), classes_by_size(6)]
+# [[1, 1, 1, 2, 10, 66, 498], {2: 3, 4: 6, 90: 1}, {2: 23, 4: 21, 8: 14, 12: 7, 394: 1}]
+[[crossed_count(size) for size in [1, 2, 3, 4, 5, 6, 7]], [sorted_count(size) for size in [1, 2, 3, 4, 5]], sorted_by_turns(4), unsorted_least(6)]
+# [[0, 0, 0, 2, 6, 46, 338], [1, 2, 6, 22, 90], [1, 6, 10, 5], 2]
+"""
+
+BETWEEN = """
+from runturns.shelves import Shelf
+from runturns.between import busiest_books, day_plan, fewest_days, is_between, is_day_plan, many_between, middle, nearest_with, nearest_without, parting_shelves, shelves_between, sum_of_ways
+abc = ["a", "b", "c"]
+home, left, right, all_turned = [Shelf(abc, row) for row in (["a", "b", "c"], ["b", "a", "c"], ["a", "c", "b"], ["c", "b", "a"])]
+[is_between(left, right, home), is_between(left, right, all_turned), many_between(left, right), [shelf.row() for shelf in shelves_between(left, right)]]
+# [True, False, 3, [['a', 'b', 'c'], ['a', 'c', 'b'], ['b', 'a', 'c']]]
+middle(left, right, all_turned) == home
+# True
+[nearest_with(left, ("b", "c")) == right, nearest_without(left, ("a", "b")) == home, nearest_with(left, ("a", "c"))]
+# [True, True, None]
+[parting_shelves(home, ("a", "b")), parting_shelves(home, ("a", "c")), sum_of_ways(home), fewest_days(left, right), busiest_books(left, right)]
+# [(2, 4), (0, 6), 7, 2, ['b']]
+abcd = ["a", "b", "c", "d"]
+[fewest_days(Shelf(abcd, ["b", "a", "d", "c"]), Shelf(abcd, abcd)), day_plan(Shelf(abcd, ["b", "a", "d", "c"]), Shelf(abcd, abcd)), is_day_plan(left, right, [[("b", "c")], [("a", "b")]])]
+# [1, [[('a', 'b'), ('c', 'd')]], False]
+"""
+
+CATALOGUES = """
+from runturns.shelves import Shelf
+from runturns.catalogues import alike_for_all, common_distance, common_home, common_joined, common_knots, common_runs, common_shelf, common_awry, common_way
+from runturns.catalogues import first_parting, is_common_way, is_parting_run, least_beside, let_lots, needless, parting_lots, parting_run
+abc, cab = ["a", "b", "c"], [["b", "c", "a"]]
+bac, far, plain = Shelf(abc, ["b", "a", "c"]), Shelf(abc, ["c", "a", "b"]), Shelf(abc, ["a", "b", "c"])
+[let_lots(abc, []), let_lots(abc, cab), common_runs(bac, cab), common_runs(plain, cab)]
+# [[('a', 'b'), ('a', 'b', 'c'), ('b', 'c')], [('a', 'b', 'c'), ('b', 'c')], [('a', 'b', 'c')], [('a', 'b', 'c'), ('b', 'c')]]
+[common_knots(bac, cab), common_knots(plain, cab), common_awry(bac, cab), common_awry(far, cab)]
+# [{('a', 'b', 'c'): ('crossed', '+')}, {('a', 'b', 'c'): ('straight', '+'), ('b', 'c'): ('straight', '+')}, [], [('a', 'b', 'c')]]
+[common_joined(bac, far, cab), common_distance(bac, far, cab), common_way(bac, far, cab), is_common_way(bac, far, cab, [("a", "b"), ("b", "c")]), common_home(far, cab) == bac]
+# [True, 1, [('a', 'b', 'c')], False, True]
+[common_joined(bac, plain, cab), common_joined(bac, plain, []), first_parting(bac, plain, cab), parting_lots(bac, plain, cab), common_distance(bac, plain, [])]
+# [False, True, 1, [[0]], 1]
+[needless(abc, [["c", "b", "a"], ["b", "c", "a"]]), least_beside(abc, [["c", "b", "a"], ["b", "c", "a"]]), alike_for_all(abc, [], [["c", "b", "a"]]), alike_for_all(abc, [], cab)]
+# [[0], [[1]], True, False]
+[common_shelf(bac, cab, [("a", "b", "c")]) == far, common_shelf(bac, cab, [("b", "c")]), parting_run(abc, [], [["c", "b", "a"]]), is_parting_run(abc, [], cab, (bac, ("a", "b")))]
+# [True, None, None, True]
+"""
+
 
 def told_by(block):
     """Tuples of a line, the representation of what it gives, and the one that stands below it."""
@@ -208,3 +264,12 @@ class Examples(unittest.TestCase):
 
     def test_sorting(self):
         self.check(SORTING, 6)
+
+    def test_numbers(self):
+        self.check(NUMBERS, 5)
+
+    def test_between(self):
+        self.check(BETWEEN, 5)
+
+    def test_catalogues(self):
+        self.check(CATALOGUES, 6)

@@ -5,6 +5,8 @@ import builtins
 import pathlib
 import unittest
 
+from runturns import errors
+
 PACKAGE = pathlib.Path(__file__).resolve().parent.parent / "runturns"
 LIBRARY = {"heapq": {"heappush", "heappop", "heapify", "heapreplace", "heappushpop"},
            "math": {"gcd", "lcm", "isqrt", "comb", "perm", "factorial"},
@@ -17,8 +19,7 @@ BUILTINS = set("""len range enumerate zip min max sum abs sorted reversed int st
     RuntimeError NotImplementedError AttributeError StopIteration NotImplemented""".split())
 BARRED = (ast.Global, ast.AsyncFunctionDef, ast.AsyncFor, ast.AsyncWith, ast.Await, ast.Import, ast.Div)
 # A class of the package has an __eq__, so any, all, min, max, sum and sorted take lists (L7).
-NOT_USED = (ast.GeneratorExp, ast.Yield, ast.YieldFrom, ast.Pow, ast.Starred, ast.Nonlocal, ast.Set, ast.SetComp,
-            ast.Try)
+NOT_USED = (ast.GeneratorExp, ast.Yield, ast.YieldFrom, ast.Pow, ast.Starred, ast.Nonlocal, ast.Set, ast.SetComp)
 METHODS = set("""append clear copy count endswith extend find get index insert isalnum isalpha isdigit islower isspace
     isupper items join keys ljust lower lstrip partition pop remove replace reverse rfind rjust rpartition rsplit rstrip
     setdefault split splitlines startswith strip update upper values zfill bit_length""".split())
@@ -106,6 +107,17 @@ class Language(unittest.TestCase):
                 if isinstance(node, ast.Attribute):
                     (own if isinstance(node.ctx, ast.Store) else read).add(node.attr)
         self.assertEqual(sorted(read - own - METHODS), [])
+
+    def test_errors_are_caught_and_raised_by_their_names(self):
+        for name, tree in trees():
+            for node in ast.walk(tree):
+                if isinstance(node, ast.Try):
+                    self.assertEqual(node.finalbody, [], name)
+                if isinstance(node, ast.ExceptHandler):
+                    self.assertIsNone(node.name, name)
+                    self.assertTrue(issubclass(getattr(errors, node.type.id), errors.ShelfError), name)
+                if isinstance(node, ast.Raise):
+                    self.assertTrue(issubclass(getattr(errors, node.exc.func.id), errors.ShelfError), name)
 
     def test_no_two_files_import_from_each_other(self):
         needed = {}
