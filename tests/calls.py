@@ -4,10 +4,17 @@ import copy
 import itertools
 
 from runturns import errors
+from runturns.between import middle, shelves_between
+from runturns.catalogues import common_shelf
+from runturns.changes import lot_shelf, put_for
+from runturns.hall import Hall
 from runturns.homes import awry_runs, home_of
 from runturns.lots import met, shelf_of
+from runturns.numbers import class_place, class_shelf
+from runturns.papers import read_shelf, shelf_text
 from runturns.prices import meeting_shelf
 from runturns.runs import all_runs, run_turned
+from runturns.scripts import end_of
 from runturns.shelves import Shelf, changed, changed_by, exchanged, flipped, mirrored, renamed, shelf_at, shelf_number
 from runturns.ways import led
 from tests.helpers import any_objects, check_error, names_of_parameters, same
@@ -29,19 +36,50 @@ def spoil(value):
     if isinstance(value, Shelf):
         value.catalogue().clear()
         value.row().reverse()
+    if isinstance(value, Hall):
+        value.barred().append("spoilt")
+        value.log().reverse()
+        for spot in value.spots():
+            value.take(spot)
 
 
-def made_elsewhere(shelf):
-    """Shelves that are equal to one, made in other ways."""
+def renamed_and_back(shelf):
     names = {book: "x" + "abcdefghijkl"[at] for at, book in enumerate(shelf.catalogue())}
-    back = {name: book for book, name in names.items()}
+    return renamed(renamed(shelf, names), {name: book for book, name in names.items()})
+
+
+def turned_and_back(shelf):
     run = all_runs(shelf)[:1]
-    return [flipped(flipped(shelf)), mirrored(mirrored(shelf)), exchanged(exchanged(shelf)),
-            shelf_at(shelf.catalogue(), shelf_number(shelf)), renamed(renamed(shelf, names), back),
-            changed_by(changed(shelf, ("put", "qqqqqqqq", 0, 0)), [("out", "qqqqqqqq")]),
-            run_turned(run_turned(shelf, run[0]), run[0]) if run else shelf, shelf_of(shelf, awry_runs(shelf)),
-            met(shelf, shelf), led(home_of(shelf), awry_runs(shelf)), led(shelf, run + run),
-            meeting_shelf([shelf, shelf, home_of(shelf)], {})]
+    return run_turned(run_turned(shelf, run[0]), run[0]) if run else shelf
+
+
+def led_in_a_hall(shelf):
+    hall = Hall(shelf.catalogue())
+    spot = hall.put(home_of(shelf))
+    hall.wish(spot, shelf)
+    while hall.left(spot):
+        hall.go(spot)
+    return hall.shelf(spot)
+
+
+def led_by_a_script(shelf):
+    turns = [("turn", 0, run) for run in awry_runs(shelf)]
+    return end_of(shelf.catalogue(), [("put", home_of(shelf))] + turns)[0][0][0]
+
+
+# Each makes a shelf that is equal to one, in its own way.
+MADE_ELSEWHERE = [
+    lambda shelf: flipped(flipped(shelf)), lambda shelf: mirrored(mirrored(shelf)),
+    lambda shelf: exchanged(exchanged(shelf)), lambda shelf: shelf_at(shelf.catalogue(), shelf_number(shelf)),
+    renamed_and_back, lambda shelf: changed_by(changed(shelf, ("put", "qqqqqqqq", 0, 0)), [("out", "qqqqqqqq")]),
+    turned_and_back, lambda shelf: shelf_of(shelf, awry_runs(shelf)), lambda shelf: met(shelf, shelf),
+    lambda shelf: led(home_of(shelf), awry_runs(shelf)), lambda shelf: led(shelf, all_runs(shelf)[:1] * 2),
+    lambda shelf: meeting_shelf([shelf, shelf, home_of(shelf)], {}),
+    lambda shelf: class_shelf(shelf, class_place(shelf)), lambda shelf: middle(home_of(shelf), shelf, shelf),
+    lambda shelf: shelves_between(shelf, shelf)[0], lambda shelf: common_shelf(shelf, [], awry_runs(shelf)),
+    lambda shelf: put_for(shelf, shelf.row()[0], Shelf(shelf.row()[:1], shelf.row()[:1])),
+    lambda shelf: lot_shelf(shelf, [("out", "q")], []), lambda shelf: read_shelf(shelf_text(shelf)), led_in_a_hall,
+    led_by_a_script]
 
 
 def with_shelves(value, make):
@@ -108,8 +146,8 @@ class RightCalls:
     def test_shelves_that_were_made_elsewhere(self):
         for function, arguments in self.each():
             told = function(*arguments)
-            for at in range(len(made_elsewhere(Shelf(["a"], ["a"])))):
-                made = with_shelves(arguments, lambda shelf: made_elsewhere(shelf)[at])
+            for make in MADE_ELSEWHERE:
+                made = with_shelves(arguments, make)
                 self.assertTrue(same(made, arguments))
                 self.assertTrue(same(function(*made), told))
 

@@ -6,12 +6,17 @@ import itertools
 import re
 
 from runturns import errors
+from runturns.hall import Hall
 from runturns.shelves import Shelf
 
 ABC, DCBA = ["a", "b", "c"], ["d", "c", "b", "a"]
 # A catalogue that is not in the order of letters.
 MIXED = ["pear", "fig", "zz", "apple", "mango"]
 TWELVE = list("kbhdalcgifje")
+LINES = ["a b c\nc a b", "a b\nb c", "a b c\nc a b\n", "a\na", "a b\nb a", "a b = 1", "a b = 01", "put x 0 0",
+         "put x 0", "out a", "move a 2", "list a -1", "turn 0 a b", "undo", "redo\nundo", "try\nend",
+         "try\n  undo\nend", "put\n  a\n  a\nend", "put\n a\n a\nend", "wish 0\n  a b\n  b a\nend",
+         "a\na\n\na\na", "\n", "\n\n"]
 
 
 def nested(wrap, depth):
@@ -75,11 +80,37 @@ def any_objects():
               {("a", "b"): 1, "a": 1}, {("a", "b"): 1, (("a", "b"),): 1}, {None: 1}, [(("a", "b"), 1)], {("a", 1): 1}]
     shelves = [[shelf, shelf], (shelf, shelf), [shelf, None], [shelf, [shelf]], {0: shelf}, [shelf, ["c", "a", "b"]],
                [[0], [1]], [0, True], [2, 3], [0, -1], (2, 3), [60, 0], ["1"], [1, None]]
-    more = runs + trees + signs + prices + shelves
+    commands = [[("undo",)], [("redo",), ("undo",)], [("try", [])], [("try", [("undo",)])], [("try", None)], [("try",)],
+                [("put", shelf)], [("put", "a")], [("put",)], [("take", 0)], [("take", True)],
+                [("turn", 0, ("a", "b"))],
+                [("turn", 0, ["a", "b"])], [("turn", 0)], [("wish", 0, shelf)], [("unwish", 1)], [("bar", ("a", "c"))],
+                [("bar", ("a",))], [("meet", 0, 1, 2)], [("meet", 0, 1)], [("exchange", 0, shelf)], [("left", 0)],
+                [("go", 0), ("go", None)], (("undo",),), [["undo"]], [("undo", 0)], [("swap", 0)], [(0, "put")],
+                [(["put"], shelf)], [()], [("undo",), None]]
+    more = runs + trees + signs + prices + shelves + LINES + commands
     own = [shelf, Shelf(["a"], ["a"]), errors.InvalidBook(), errors.InvalidShelf(shelf), errors.ShelfError(),
-           errors.NothingToUndo(), [errors.InvalidRow(["a"])], (errors.Unlike("a"),)]
+           errors.NothingToUndo(), [errors.InvalidRow(["a"])], (errors.Unlike("a"),), Hall(["a", "b", "c"]),
+           [Hall(["a"])]]
     deep = [nested(lambda value: [value], 38), nested(lambda value: (value,), 38), nested(lambda value: {1: value}, 38)]
     return plain + texts + lists + tuples + changes + dicts + more + own + deep
+
+
+def told_of(hall):
+    """What the methods of a hall tell, and what they tell when it goes back to its beginning and on to its end."""
+    def told_now(hall):
+        return [[spot, hall.shelf(spot), hall.wish_of(spot), hall.needed(spot), hall.left(spot), hall.ways_left(spot),
+                 hall.openings(spot), hall.turns(spot)] for spot in hall.spots()] + [
+                     hall.barred(), hall.could_bar(), hall.total(), hall.log()]
+    told = [told_now(hall)]
+    for step, last in (("undo", errors.NothingToUndo), ("redo", errors.NothingToRedo)):
+        twin = hall.copy()
+        try:
+            while True:
+                getattr(twin, step)()
+                told.append(told_now(twin))
+        except last:
+            pass
+    return told
 
 
 def same(one, other):
@@ -92,9 +123,27 @@ def same(one, other):
         return same([pair for pair in one.items()], [pair for pair in other.items()])
     if isinstance(one, Shelf):
         return same([one.catalogue(), one.row()], [other.catalogue(), other.row()])
+    if isinstance(one, Hall):
+        return same(told_of(one), told_of(other))
     if isinstance(one, errors.ShelfError):
         return same(vars(one), vars(other))
     return one == other
+
+
+def bent_texts(text):
+    """Texts that are one in all but one place: a sign changed, left out or put in, or a line."""
+    found = [text[:at] + text[at + 1:] for at in range(len(text))]
+    for sign in "ax 0179=-+\n\tA":
+        found += [text[:at] + sign + text[at + 1:] for at in range(len(text))]
+        found += [text[:at] + sign + text[at:] for at in range(len(text) + 1)]
+    lines = text.split("\n")
+    for at, line in enumerate(lines):
+        rest = lines[:at] + lines[at + 1:]
+        found += ["\n".join(rest), "\n".join(lines[:at] + [line, line] + lines[at + 1:])]
+        found += ["\n".join(rest[:other] + [line] + rest[other:]) for other in range(len(lines))]
+        others = (line + " ", " " + line, "  " + line, line[2:], line.replace(" ", "  "), "", line + " a")
+        found += ["\n".join(lines[:at] + [other] + lines[at + 1:]) for other in others]
+    return sorted(set(found) - {text})
 
 
 def book_is_right(value):
@@ -113,6 +162,27 @@ def books_are_right(books, least):
             return False
         return len(value) >= least and sorted(value) == sorted(set(value))
     return judge
+
+
+def is_change_by_form(value):
+    if type(value) is not tuple or len(value) < 2 or not book_is_right(value[1]) or type(value[0]) is not str:
+        return False
+    kinds = [type(part) for part in value[2:]]
+    return (value[0], kinds) in [("put", [int, int]), ("out", []), ("move", [int]), ("list", [int])] and \
+        all(part >= 0 for part in value[2:])
+
+
+# All changes of any_objects() that fit the shelf of the row c, a, b.
+FITTING = [("out", "a"), ("put", "x", 0, 0), ("put", "x", 3, 3), ("move", "a", 0), ("move", "a", 2),
+           ("list", "a", 1)]
+
+
+def fits_cab(value):
+    return any(same(value, change) for change in FITTING)
+
+
+def are_changes_by_form(value):
+    return type(value) is list and all(is_change_by_form(change) for change in value)
 
 
 def is_one_of(things):

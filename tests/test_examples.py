@@ -219,6 +219,68 @@ bac, far, plain = Shelf(abc, ["b", "a", "c"]), Shelf(abc, ["c", "a", "b"]), Shel
 # [True, None, None, True]
 """
 
+CHANGES = """
+from runturns.changes import best_places, joined_places, joining_lots, kept_runs, lessened, lost_runs, lot_without, meeting_changes, new_runs, parting_changes, put_for, rest_runs, run_spread, sorting_entries, turns_at, turns_listed
+from runturns.shelves import Shelf
+four, three = ["a", "b", "c", "d"], ["a", "b", "c"]
+mixed, wild, low, high = Shelf(four, ["c", "a", "b", "d"]), Shelf(four, ["b", "d", "a", "c"]), Shelf(three, ["b", "a", "c"]), Shelf(three, ["a", "c", "b"])
+[kept_runs(mixed, ("out", "b")), lost_runs(mixed, ("out", "b")), new_runs(wild, ("out", "b")), new_runs(low, ("put", "x", 3, 3))]
+# [[('a', 'b', 'c'), ('a', 'b', 'c', 'd')], [('a', 'b')], [('a', 'c')], [('c', 'x')]]
+[rest_runs(wild, "a"), rest_runs(wild, "b"), lot_without(wild, "b"), rest_runs(mixed, "a"), lot_without(mixed, "a")]
+# [[('c', 'd')], [('a', 'c'), ('a', 'c', 'd')], [('a', 'c'), ('a', 'c', 'd')], [], [('b', 'c')]]
+[turns_at(low, "x", 3), best_places(low, "x", 3), joined_places(low, "x", 3), turns_listed(mixed, "c"), sorting_entries(wild, "b")]
+# [[3, 0, 2, 1], [1], [[0, 2, 3], [1]], [0, 1, 2, 2], [0, 2, 3]]
+[joining_lots(wild, Shelf(four, four)), lessened(low, high, "a"), lessened(low, high, "b"), parting_changes(low, high, [("put", "x", 3, 1)]), meeting_changes(wild, mixed, [("out", "a"), ("out", "b")])]
+# [[['a'], ['b'], ['c'], ['d']], 1, 2, [[0]], [[0], [1]]]
+[put_for(Shelf(["a", "b"], ["b", "a"]), "a", Shelf(["c", "d"], ["d", "c"])).row(), run_spread(("a", "b"), "a", Shelf(["c", "d"], ["d", "c"]))]
+# [['b', 'd', 'c'], ('c', 'd', 'b')]
+"""
+
+HALL = """
+from runturns.shelves import Shelf
+from runturns.hall import Hall, replayed
+abc = ["a", "b", "c"]
+bac, acb, cab, plain = Shelf(abc, ["b", "a", "c"]), Shelf(abc, ["a", "c", "b"]), Shelf(abc, ["c", "a", "b"]), Shelf(abc, abc)
+hall = Hall(abc)
+[hall.put(bac), hall.wish(0, acb), hall.needed(0), hall.left(0), hall.ways_left(0), hall.openings(0), hall.could_bar()]
+# [0, None, [('a', 'b'), ('b', 'c')], 2, 1, [('a', 'b')], [('a', 'b', 'c')]]
+[hall.bar(("a", "b", "c")), hall.turns(0), hall.go(0), hall.shelf(0) == plain, hall.left(0), hall.go(0), hall.shelf(0) == acb, hall.total()]
+# [None, [('a', 'b')], ('a', 'b'), True, 1, ('b', 'c'), True, 0]
+[hall.undo(), hall.shelf(0) == plain, hall.barred(), hall.put(cab), hall.wish_of(1), hall.unwish(0), hall.put(bac), hall.meet(0, 1, 2) == bac]
+# [None, True, [('a', 'b', 'c')], 1, None, None, 2, True]
+[len(hall.log()), replayed(Hall(abc), hall.log()).shelf(0) == bac, hall.spots()]
+# [8, True, [0, 1, 2]]
+"""
+
+SCRIPTS = r"""
+from runturns.hall import Hall
+from runturns.scripts import end_of, play, read_script, script_text, shortened
+from runturns.shelves import Shelf
+abc = ["a", "b", "c"]
+bac, acb = Shelf(abc, ["b", "a", "c"]), Shelf(abc, ["a", "c", "b"])
+day = [("put", bac), ("wish", 0, acb), ("left", 0), ("turn", 0, ("b", "c")), ("go", 0), ("bar", ("a", "b")), ("try", [("go", 0), ("undo",)]), ("openings", 0)]
+play(Hall(abc), day)
+# [('put', 0), ('done',), ('left', 2), ('refused', 'InvalidRun'), ('gone', ('a', 'b')), ('done',), ('tried', [('gone', ('b', 'c')), ('done',)]), ('openings', [('b', 'c')])]
+[end_of(abc, day) == ({0: (Shelf(abc, abc), acb)}, [("a", "b")]), read_script(script_text(day)) == day]
+# [True, True]
+script_text([("turn", 0, ("a", "b")), ("try", [("bar", ("a", "b", "c"))]), ("put", bac)])
+# 'turn 0 a b\ntry\n  bar a b c\nend\nput\n  a b c\n  b a c\nend'
+shortened(abc, [("put", bac), ("left", 0), ("undo",), ("redo",)]) == [("put", bac), ("redo",)]
+# True
+"""
+
+PAPERS = r"""
+from runturns.papers import change_text, prices_text, read_change, read_prices, read_shelf, read_shelves, read_turns, shelf_text, shelves_text, turns_text
+from runturns.shelves import Shelf
+shelf, one = Shelf(["a", "b", "c"], ["c", "a", "b"]), Shelf(["z"], ["z"])
+[shelf_text(shelf), read_shelf("z\nz") == one, shelves_text([one, one]), read_shelves("")]
+# ['a b c\nc a b', True, 'z\nz\n\nz\nz', []]
+[turns_text([("b", "a"), ("a", "b", "c")]), read_turns("a b"), prices_text({("b", "c"): 10, ("a", "b"): 0}), read_prices("a b = 7")]
+# ['b a\na b c', [('a', 'b')], 'a b = 0\nb c = 10', {('a', 'b'): 7}]
+[change_text(("put", "x", 1, 3)), read_change("out x"), read_change("list a 0")]
+# ['put x 1 3', ('out', 'x'), ('list', 'a', 0)]
+"""
+
 
 def told_by(block):
     """Tuples of a line, the representation of what it gives, and the one that stands below it."""
@@ -273,3 +335,15 @@ class Examples(unittest.TestCase):
 
     def test_catalogues(self):
         self.check(CATALOGUES, 6)
+
+    def test_changes(self):
+        self.check(CHANGES, 5)
+
+    def test_hall(self):
+        self.check(HALL, 4)
+
+    def test_scripts(self):
+        self.check(SCRIPTS, 4)
+
+    def test_papers(self):
+        self.check(PAPERS, 3)

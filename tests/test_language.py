@@ -130,6 +130,61 @@ class Language(unittest.TestCase):
             self.assertNotEqual(free, [], needed)
             needed = {name: needed[name] - set(free) for name in needed if name not in free}
 
+    def test_each_import_names_the_file_that_defines_the_name(self):
+        given = {name: {node.name for node in tree.body if isinstance(node, (ast.FunctionDef, ast.ClassDef))} |
+                 {target.id for node in tree.body if isinstance(node, ast.Assign) for target in node.targets}
+                 for name, tree in trees()}
+        for name, tree in trees():
+            for node in tree.body:
+                if isinstance(node, ast.ImportFrom) and node.module.startswith("runturns."):
+                    named = {alias.name for alias in node.names}
+                    self.assertLessEqual(named, given[node.module.split(".")[1] + ".py"], name)
+
+    def test_module_level(self):
+        plain = (ast.Constant, ast.Tuple, ast.List, ast.Dict, ast.Name, ast.Load)
+        for name, tree in trees():
+            bound = []
+            for node in tree.body:
+                if isinstance(node, ast.Assign):
+                    self.assertTrue(all(isinstance(inner, plain) for inner in ast.walk(node.value)), name)
+                    bound += [target.id for target in node.targets]
+                elif isinstance(node, (ast.FunctionDef, ast.ClassDef)):
+                    bound.append(node.name)
+                else:
+                    docstring = isinstance(node, ast.Expr) and isinstance(node.value, ast.Constant)
+                    self.assertTrue(docstring or isinstance(node, ast.ImportFrom), name)
+            self.assertEqual(len(bound), len(set(bound)), name)
+
+    def test_functions_and_methods(self):
+        for name, tree in trees():
+            for node in ast.walk(tree):
+                if isinstance(node, ast.FunctionDef):
+                    given = node.args
+                    self.assertEqual([node.decorator_list, given.kwonlyargs, given.posonlyargs], [[], [], []], name)
+                    self.assertEqual([given.vararg, given.kwarg, node.returns], [None, None, None], name)
+                    self.assertTrue(name == "errors.py" or given.defaults == [], name)
+                    dunder = node.name.startswith("__")
+                    self.assertTrue(not dunder or node.name in ("__init__", "__eq__", "__enter__", "__exit__"), name)
+
+    def test_calls(self):
+        own = {node.name: len(node.args.args)
+               for _, tree in trees() for node in tree.body if isinstance(node, ast.FunctionDef)}
+        keywords = {"sorted": {"key"}, "min": {"key", "default"}, "max": {"key", "default"}}
+        for name, tree in trees():
+            for node in ast.walk(tree):
+                if isinstance(node, ast.Call):
+                    word = node.func.id if isinstance(node.func, ast.Name) else ""
+                    self.assertLessEqual({keyword.arg for keyword in node.keywords}, keywords.get(word, set()), name)
+                    self.assertEqual(len(node.args), own.get(word, len(node.args)), (name, word))
+
+    def test_what_stands_beside_is(self):
+        for name, tree in trees():
+            for node in ast.walk(tree):
+                if isinstance(node, ast.Compare):
+                    for sign, other in zip(node.ops, node.comparators):
+                        if isinstance(sign, (ast.Is, ast.IsNot)):
+                            self.assertIsInstance(other, ast.Constant, name)
+
     def test_each_import_is_used(self):
         for name, tree in trees():
             used = {node.id for node in ast.walk(tree) if isinstance(node, ast.Name)}

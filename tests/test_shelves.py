@@ -6,9 +6,9 @@ import unittest
 from runturns import errors, shelves
 from runturns.shelves import Shelf, changed, changed_by, cut_to, entry_of, exchanged, flipped, is_book, is_catalogue
 from runturns.shelves import mirrored, place_of, ranks, renamed, shelf_at, shelf_number, sorted_shelf
-from tests.helpers import ABC, DCBA, MIXED, TWELVE, Arguments, WrongArguments, any_objects, book_is_right
-from tests.helpers import books_are_right, catalogue_is_right, check_error, count_is_right, is_shelf
-from tests.helpers import names_of_parameters, same, shelves_of, some_shelves
+from tests.helpers import ABC, DCBA, FITTING, MIXED, TWELVE, Arguments, WrongArguments, any_objects
+from tests.helpers import are_changes_by_form, book_is_right, books_are_right, catalogue_is_right, check_error
+from tests.helpers import count_is_right, fits_cab, is_shelf, names_of_parameters, same, shelves_of, some_shelves
 
 CAB = Shelf(ABC, ["c", "a", "b"])
 ONE = Shelf(["z"], ["z"])
@@ -26,27 +26,6 @@ def is_row_of_abc(value):
 
 def is_one_of_abc(value):
     return type(value) is str and value in ABC
-
-
-def is_change_by_form(value):
-    if type(value) is not tuple or len(value) < 2 or not book_is_right(value[1]) or type(value[0]) is not str:
-        return False
-    kinds = [type(part) for part in value[2:]]
-    return (value[0], kinds) in [("put", [int, int]), ("out", []), ("move", [int]), ("list", [int])] and \
-        all(part >= 0 for part in value[2:])
-
-
-# All changes of any_objects() that fit CAB.
-FITTING = [("out", "a"), ("put", "x", 0, 0), ("put", "x", 3, 3), ("move", "a", 0), ("move", "a", 2),
-           ("list", "a", 1)]
-
-
-def fits_cab(value):
-    return any(same(value, change) for change in FITTING)
-
-
-def are_changes_by_form(value):
-    return type(value) is list and all(is_change_by_form(change) for change in value)
 
 
 def are_names_of_abc(value):
