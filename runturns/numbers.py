@@ -231,8 +231,8 @@ def classes_by_size(size):
     for many in range(2, size + 1):
         found = {}
         for parts in range(4, many + 1):
-            knots = {2: crossed[parts] // 2} if crossed[parts] > 0 else {}
-            found = _joined_tables(found, _spread_table(knots, _tables_in_row(cores, parts, many)))
+            rows = _tables_in_row(cores, parts, many)
+            found = _joined_tables(found, _spread_table({2: crossed[parts] // 2}, rows))
         bare.append(found)
         for things in range(2, many + 1):
             rows = _tables_in_row(bare, things, many)

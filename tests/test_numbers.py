@@ -241,7 +241,7 @@ class Sizes(unittest.TestCase):
             self.assertTrue(same(classes_by_size(size), {many: sizes.count(many) for many in sorted(set(sizes))}))
 
     def test_all_shelves_are_in_some_class(self):
-        for size in range(1, 10):
+        for size in range(1, 12):
             told = classes_by_size(size)
             self.assertEqual(sum(many * count for many, count in told.items()), math.factorial(size))
             self.assertEqual(sum(told.values()), class_count(size))
